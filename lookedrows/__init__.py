@@ -1,0 +1,1 @@
+"""Lookedrows: procedures over ordered tables, decided for all tables."""
