@@ -1,10 +1,11 @@
 """Names, columns and values: what they are, their texts, and the sum of a value and an integer."""
 
-from lookedrows.errors import InvalidText, InvalidValue
+from lookedrows.errors import InvalidColumns, InvalidText, InvalidValue
 
 BOUND = 10 ** 30
 MOST_DIGITS = 31
 MOST_LETTERS = 6
+MOST_COLUMNS = 3
 RESERVED = ("and", "found", "key", "next", "not", "or", "own", "set", "true", "where")
 
 
@@ -20,6 +21,20 @@ def is_column(value):
     return value == "key" or is_name(value)
 
 
+def are_names(value, most):
+    """Whether any value is a list of different names, at most so many."""
+    if not isinstance(value, (list, tuple)) or len(value) > most:
+        return False
+    return all([is_name(name) for name in value]) and len(set(value)) == len(value)
+
+
+def all_columns(columns):
+    """The tuple of all columns of a table with these further ones; raises InvalidColumns()."""
+    if not are_names(columns, MOST_COLUMNS):
+        raise InvalidColumns()
+    return ("key", *columns)
+
+
 def is_whole(value):
     """Whether any value is an integer; True and False are none."""
     return isinstance(value, int) and not isinstance(value, bool)
@@ -28,7 +43,7 @@ def is_whole(value):
 def is_value(value):
     """Whether any value is a value over some columns."""
     if isinstance(value, tuple) and len(value) == 3 and value[0] == "plus":
-        return _is_single(value[1]) and _is_bounded(value[2])
+        return _is_single(value[1]) and is_bounded(value[2])
     return _is_single(value)
 
 
@@ -42,13 +57,13 @@ def _is_single(value):
         return False
     form, part = value
     if form == "number":
-        return _is_bounded(part)
+        return is_bounded(part)
     if form == "name":
         return is_name(part)
     return form in ("own", "next") and is_column(part)
 
 
-def _is_bounded(value):
+def is_bounded(value):
     """Whether any value is an integer that may stand in a value."""
     return is_whole(value) and -BOUND <= value <= BOUND
 

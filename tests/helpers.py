@@ -3,6 +3,7 @@
 The readers here work by regular expressions and rewriting, so that they do not repeat the program's mistakes.
 """
 
+import itertools
 import random
 import re
 import string
@@ -224,3 +225,403 @@ def condition_of(text):
 def letters_beside(word):
     """The words that differ from a word in one letter that is put in, left out or exchanged."""
     return sorted(edits(word, string.ascii_lowercase))
+
+
+# ---- comparisons, said once more
+
+def right_unknown(thing):
+    if type(thing) is not str:
+        return False
+    cell = re.fullmatch(r"(?:0|[1-9][0-9]*)\.([a-z]+)", thing)
+    return thing == "" or right_name(thing) or (cell is not None and right_column(cell[1]))
+
+
+def least_sums(comparisons):
+    """The dict from the pairs of unknowns to the least sum of a way from one to the other, or None if there is a ring.
+
+    By Floyd and Warshall, over all unknowns and 0.
+    """
+    unknowns = sorted({""} | {side for left, right, _ in comparisons for side in (left, right)})
+    sums = {(u, u): 0 for u in unknowns}
+    for left, right, k in comparisons:
+        sums[left, right] = min(k, sums.get((left, right), k))
+    for mid in unknowns:
+        for one in unknowns:
+            for other in unknowns:
+                if (one, mid) in sums and (mid, other) in sums:
+                    way = sums[one, mid] + sums[mid, other]
+                    sums[one, other] = min(way, sums.get((one, other), way))
+    if any(sums[u, u] < 0 for u in unknowns):
+        return None
+    return sums
+
+
+def solves(numbers, comparisons):
+    """Whether integers solve comparisons."""
+    numbers = dict(numbers) | {"": 0}
+    return all(numbers[left] <= numbers[right] + k for left, right, k in comparisons)
+
+
+def grid(unknowns, low, high):
+    """All dicts from unknowns to integers of a range."""
+    return [dict(zip(unknowns, point)) for point in itertools.product(range(low, high + 1), repeat=len(unknowns))]
+
+
+def some_comparisons(dice, unknowns, many, most):
+    """A list of comparisons between unknowns, with integers of at most this size."""
+    return [(dice.choice(unknowns), dice.choice(unknowns), dice.randint(-most, most)) for _ in range(many)]
+
+
+# ---- statements, said once more
+
+def is_list(thing):
+    return type(thing) in (list, tuple)
+
+
+def speaks_of(thing, forms, columns, arguments):
+    """Whether a thing is a value of one of these forms, over all columns and the arguments."""
+    if not right_value(thing):
+        return False
+    inner = thing[1] if thing[0] == "plus" else thing
+    known = {"number": True, "name": inner[-1] in arguments, "field": inner[-1] in columns, "own": inner[-1] in columns,
+             "next": inner[-1] in columns}
+    return inner[0] in forms and known[inner[0]]
+
+
+def tells_of(thing, forms, columns, arguments):
+    """Whether a thing is a condition with such values alone."""
+    if first_wrong(thing) is not None:
+        return False
+    return all(speaks_of(value, forms, columns, arguments) for value in all_values(thing))
+
+
+def all_values(condition):
+    """The values of a condition, in the order of its text."""
+    if condition[0] in ("atmost", "below", "same"):
+        return list(condition[1:])
+    return [value for part in condition[1:] if type(part) is tuple for value in all_values(part)]
+
+
+PLAIN_FORMS = ("number", "name", "field")
+ROW_FORMS = (*PLAIN_FORMS, "own")
+
+
+def right_statement(thing, columns, arguments):
+    """Whether a thing is a statement by itself; the columns are all of them."""
+    def value(v, forms=PLAIN_FORMS):
+        return speaks_of(v, forms, columns, arguments)
+
+    def condition(c, forms=ROW_FORMS):
+        return tells_of(c, forms, columns, arguments)
+
+    def bounds(pair):
+        return type(pair) is tuple and len(pair) == 2 and all(v is None or value(v) for v in pair)
+
+    def values(things, least, most):
+        return is_list(things) and least <= len(things) <= most and all(value(v) for v in things)
+
+    match thing if type(thing) is tuple else None:
+        case ("find", r, "first" | "last", pair, c):
+            return right_name(r) and bounds(pair) and condition(c)
+        case ("step", r, "next" | "prior", s):
+            return right_name(r) and right_name(s)
+        case ("insert", r, things):
+            return right_name(r) and values(things, len(columns), len(columns))
+        case ("delete", r):
+            return right_name(r)
+        case ("set", r, column, v):
+            return right_name(r) and column != "key" and column in columns and value(v)
+        case ("clear", pair, c):
+            return bounds(pair) and condition(c)
+        case ("change", pair, c, column, v):
+            return bounds(pair) and condition(c) and column != "key" and column in columns and value(v, ROW_FORMS)
+        case ("move", v, k):
+            return value(v) and right_number(k)
+        case ("if", c, first, second):
+            return condition(c, PLAIN_FORMS) and is_list(first) and is_list(second)
+        case ("fail", word):
+            return right_name(word)
+        case ("return", things):
+            return values(things, 0, 4)
+    return False
+
+
+def in_order(statements, path=(), depth=1):
+    """The triples (path, depth, thing), each ahead of those in it, of whatever stands where statements should."""
+    found = []
+    for at, thing in enumerate(statements):
+        found.append(((*path, at), depth, thing))
+        if type(thing) is tuple and len(thing) == 4 and thing[0] == "if":
+            for place in (2, 3):
+                if is_list(thing[place]):
+                    found += in_order(thing[place], (*path, at, place), depth + 1)
+    return found
+
+
+def first_wrong_statement(statements, columns, arguments):
+    """The path of the first wrong statement, or None."""
+    if not is_list(statements):
+        return ()
+    for count, (path, depth, thing) in enumerate(in_order(statements)):
+        if count >= 24 or depth > 3 or path[0] >= 12 or not right_statement(thing, columns, arguments):
+            return path
+    return None
+
+
+def ways_of(statements):
+    """All lists of statements that a run can take through these: each if as such, and behind it one of its lists."""
+    found = [[]]
+    for statement in statements:
+        ways = [[statement]]
+        if statement[0] == "if":
+            ways = [[statement, *way] for inner in statement[2:] for way in ways_of(inner)]
+        found = [way + more for way in found for more in ways]
+    return found
+
+
+# ---- procedures and tables, as the dice fall
+
+class Maker:
+    """Makes procedures over some columns and arguments, with few names and small numbers, so that much goes on."""
+
+    def __init__(self, dice, columns=("end",), arguments=("a", "b"), names=("r", "s", "t")):
+        self.dice = dice
+        self.columns = ("key", *columns)
+        self.arguments = arguments
+        self.names = names
+
+    def value(self, own=False, fields=True):
+        dice = self.dice
+        forms = ["number"] + ["name"] * (2 if self.arguments else 0) + ["field"] * fields + ["own"] * (3 if own else 0)
+        form = dice.choice(forms)
+        single = {"number": ("number", dice.randint(-1, 6)), "own": ("own", dice.choice(self.columns)),
+                  "name": ("name", dice.choice(self.arguments or ("a",))),
+                  "field": ("field", dice.choice(self.names), dice.choice(self.columns))}[form]
+        return ("plus", single, dice.randint(-2, 2)) if dice.random() < 0.3 else single
+
+    def condition(self, own, depth=3, fields=True):
+        dice = self.dice
+        if depth > 1 and dice.random() < 0.4:
+            form = dice.choice(["not", "and", "or"])
+            inner = [self.condition(own, depth - 1, fields) for _ in range(1 if form == "not" else 2)]
+            return (form, *inner)
+        form = dice.choice(["true", "found", "atmost", "below", "same", "atmost", "below", "same"])
+        if form == "true":
+            return ("true",)
+        if form == "found":
+            return ("found", dice.choice(self.names))
+        return (form, self.value(own, fields), self.value(own, fields))
+
+    def bounds(self, fields=True):
+        return tuple(self.dice.choice([None, None, self.value(fields=fields)]) for _ in range(2))
+
+    def further(self):
+        return self.dice.choice(self.columns[1:])
+
+    def statement(self, depth=1, fields=True):
+        dice = self.dice
+        forms = ["find", "find", "step", "insert", "delete", "clear", "move", "if", "if", "fail", "return"]
+        forms += ["set", "change"] * (len(self.columns) > 1)
+        form = dice.choice(forms)
+        if form == "find":
+            c = self.condition(True, fields=fields)
+            return ("find", dice.choice(self.names), dice.choice(["first", "last"]), self.bounds(fields), c)
+        if form == "step":
+            return ("step", dice.choice(self.names), dice.choice(["next", "prior"]), dice.choice(self.names))
+        if form == "insert":
+            return ("insert", dice.choice(self.names), tuple(self.value(fields=fields) for _ in self.columns))
+        if form == "delete":
+            return ("delete", dice.choice(self.names))
+        if form == "set":
+            return ("set", dice.choice(self.names), self.further(), self.value(fields=fields))
+        if form == "clear":
+            return ("clear", self.bounds(fields), self.condition(True, fields=fields))
+        if form == "change":
+            v = self.value(True, fields)
+            return ("change", self.bounds(fields), self.condition(True, fields=fields), self.further(), v)
+        if form == "move":
+            return ("move", self.value(fields=fields), dice.randint(-2, 2))
+        if form == "if" and depth < 3:
+            lists = [self.statements(dice.randint(0, 2), depth + 1, fields) for _ in range(2)]
+            return ("if", self.condition(False, fields=fields), *lists)
+        if form == "fail" and dice.random() < 0.3:
+            return ("fail", dice.choice(["busy", "none", "x"]))
+        if dice.random() < 0.5:
+            return ("return", tuple(self.value(fields=fields) for _ in range(dice.randint(0, 4))))
+        return ("find", dice.choice(self.names), dice.choice(["first", "last"]), (None, None), ("true",))
+
+    def statements(self, many, depth=1, fields=True):
+        return tuple(self.statement(depth, fields) for _ in range(many))
+
+    def body(self, many, fields=True):
+        """The statements of a procedure: so few that some more may stand ahead of them."""
+        while True:
+            statements = self.statements(many, fields=fields)
+            if len(in_order(statements)) <= 20:
+                return statements
+
+    def finds(self):
+        """Statements that find most of the rows of which others speak, so that runs go on."""
+        found = []
+        for name in self.names:
+            low = self.dice.choice([None, ("number", self.dice.randint(0, 4))])
+            c = self.dice.choice([("true",), ("true",), self.condition(True, fields=False)])
+            found.append(("find", name, self.dice.choice(["first", "last"]), (low, None), c))
+        return tuple(self.dice.sample(found, self.dice.randint(2, len(found))))
+
+    def rows(self, many, low=-1, high=6):
+        keys = self.dice.sample(range(low, high + 1), many)
+        return [(key, *(self.dice.randint(low, high) for _ in self.columns[1:])) for key in sorted(keys)]
+
+
+# ---- runs, said once more
+
+class Ended(Exception):
+    """A run of the model has ended in this way."""
+
+    def __init__(self, *ending):
+        super().__init__()
+        self.ending = ending
+
+
+class Model:
+    """A run on rows by numbers of their own: initial rows have the numbers of their places, new ones the next ones."""
+
+    def __init__(self, columns, arguments, rows, numbers):
+        self.columns = columns
+        self.rows = {at: dict(zip(columns, row)) for at, row in enumerate(sorted(rows))}
+        self.count = len(self.rows)
+        self.given = dict(zip(arguments, numbers))
+        self.found = {}
+        self.looked = set()
+
+    def table(self):
+        return sorted(tuple(row.values()) for row in self.rows.values())
+
+    def by_key(self):
+        return sorted(self.rows, key=lambda at: self.rows[at]["key"])
+
+    def check(self, name):
+        at = self.found.get(name)
+        if at is None:
+            raise Ended("failed", "none")
+        if at not in self.rows:
+            raise Ended("failed", "gone")
+        return at
+
+    def read(self, value, own=None):
+        if value[0] == "plus":
+            return self.read(value[1], own) + value[2]
+        if value[0] == "number":
+            return value[1]
+        if value[0] == "name":
+            return self.given[value[1]]
+        if value[0] == "own":
+            return own[value[1]]
+        return self.rows[self.check(value[1])][value[2]]
+
+    def read_fields(self, values):
+        for value in values:
+            if value is not None and "field" in (value[0], value[1][0] if value[0] == "plus" else ""):
+                self.read(value)
+
+    def test(self, c, own=None):
+        match c[0]:
+            case "true":
+                return True
+            case "found":
+                return self.found.get(c[1]) is not None
+            case "not":
+                return not self.test(c[1], own)
+            case "and":
+                return all(self.test(part, own) for part in c[1:])
+            case "or":
+                return any(self.test(part, own) for part in c[1:])
+        left, right = [self.read(value, own) for value in c[1:]]
+        return {"atmost": left <= right, "below": left < right, "same": left == right}[c[0]]
+
+    def met(self, bounds, c):
+        low, high = [None if v is None else self.read(v) for v in bounds]
+        return [at for at in self.by_key() if (low is None or low <= self.rows[at]["key"])
+                and (high is None or self.rows[at]["key"] < high) and self.test(c, self.rows[at])]
+
+    def do(self, statement):
+        getattr(self, "do_" + statement[0])(*statement[1:])
+
+    def do_find(self, r, way, bounds, c):
+        self.read_fields([*bounds, *all_values(c)])
+        met = self.met(bounds, c)
+        self.found[r] = (met[0] if way == "first" else met[-1]) if met else None
+        self.looked.add(self.found[r])
+
+    def do_step(self, r, way, s):
+        behind = None
+        if self.found.get(s) is not None:
+            order = self.by_key()
+            at = order.index(self.check(s)) + (1 if way == "next" else -1)
+            behind = order[at] if 0 <= at < len(order) else None
+        self.found[r] = behind
+        self.looked.add(behind)
+
+    def do_insert(self, r, values):
+        row = dict(zip(self.columns, [self.read(value) for value in values]))
+        taken = [at for at in self.rows if self.rows[at]["key"] == row["key"]]
+        self.looked |= set(taken)
+        if taken:
+            raise Ended("failed", "taken")
+        self.rows[self.count] = row
+        self.found[r] = self.count
+        self.count += 1
+
+    def do_delete(self, r):
+        del self.rows[self.check(r)]
+
+    def do_set(self, r, column, v):
+        at = self.check(r)
+        self.rows[at][column] = self.read(v)
+
+    def do_clear(self, bounds, c):
+        self.read_fields([*bounds, *all_values(c)])
+        for at in self.met(bounds, c):
+            del self.rows[at]
+
+    def do_change(self, bounds, c, column, v):
+        self.read_fields([*bounds, *all_values(c), v])
+        new = {at: self.read(v, self.rows[at]) for at in self.met(bounds, c)}
+        for at, number in new.items():
+            self.rows[at][column] = number
+
+    def do_move(self, v, k):
+        key = self.read(v)
+        low = [at for at in self.by_key() if self.rows[at]["key"] < key]
+        high = [at for at in self.by_key() if self.rows[at]["key"] >= key]
+        self.looked |= set(low[-1:] + high[:1])
+        if low and high and self.rows[low[-1]]["key"] >= self.rows[high[0]]["key"] + k:
+            raise Ended("failed", "order")
+        for at in high:
+            self.rows[at]["key"] += k
+
+    def do_if(self, c, first, second):
+        for statement in first if self.test(c) else second:
+            self.do(statement)
+
+    def do_fail(self, word):
+        raise Ended("failed", word)
+
+    def do_return(self, values):
+        raise Ended("returned", [self.read(value) for value in values])
+
+
+def modelled(columns, arguments, statements, rows, numbers):
+    """The triple of the ending, the model behind the run, and the list of the tables that walk tells."""
+    model = Model(columns, arguments, rows, numbers)
+    tables = [model.table()]
+    for statement in statements:
+        try:
+            model.do(statement)
+        except Ended as ended:
+            if ended.ending[0] == "returned":
+                tables.append(model.table())
+            return ended.ending, model, tables
+        tables.append(model.table())
+    return ("returned", []), model, tables

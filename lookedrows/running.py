@@ -1,0 +1,47 @@
+"""Runs of procedures on tables."""
+
+from lookedrows.boards import Board, Plain, integers_of, plain_numbers
+from lookedrows.errors import ColumnsDiffer, InvalidArguments
+from lookedrows.plays import Play, played
+from lookedrows.tables import Table
+from lookedrows.values import is_whole
+
+
+def _check(procedure, table, numbers):
+    """Raises ColumnsDiffer() or InvalidArguments(), if the procedure can't be run so."""
+    if procedure.columns != table.columns:
+        raise ColumnsDiffer()
+    if len(numbers) != len(procedure.arguments) or not all([is_whole(number) for number in numbers]):
+        raise InvalidArguments()
+
+
+def _plain_rows(table):
+    """The list of the rows of a table, as tuples of numbers."""
+    return [plain_numbers(row) for row in table.rows()]
+
+
+def _table_of(table, cells):
+    """The table with the columns of another one and with these rows of numbers."""
+    return Table(table.columns[1:], [integers_of(row) for row in cells])
+
+
+def run(procedure, table, *numbers):
+    """The pair of the ending and the table behind a run; raises ColumnsDiffer(), InvalidArguments()."""
+    _check(procedure, table, numbers)
+    ending, cells = played(procedure, _plain_rows(table), plain_numbers(numbers), Plain())
+    if ending[0] == "failed":
+        return ending, table
+    return ("returned", list(integers_of(ending[1]))), _table_of(table, cells)
+
+
+def walk(procedure, table, *numbers):
+    """Yields the tables ahead of the first statement and behind each one that is done; raises as run."""
+    _check(procedure, table, numbers)
+    board = Board(_plain_rows(table), Plain())
+    play = Play(procedure, board, plain_numbers(numbers))
+    yield table
+    for statement in procedure.statements():
+        if play.end is None:
+            play.do(statement)
+            if play.end is None or play.end[0] == "returned":
+                yield _table_of(table, board.told())
