@@ -19,6 +19,11 @@ def plain_numbers(integers):
     return tuple([("", integer) for integer in integers])
 
 
+def plain_rows(rows):
+    """The list of the rows of numbers of some rows of integers."""
+    return [plain_numbers(row) for row in rows]
+
+
 def integers_of(numbers):
     """The tuple of the integers of some numbers that are all integers."""
     return tuple([number[1] for number in numbers])

@@ -19,7 +19,7 @@ def _is_met(play, line, bounds, condition):
         return False
     if high is not None and not play.board.below(key, play.scene.number(high)):
         return False
-    return play.scene.holds(condition, line.cells)
+    return play.scene.meets(condition, line.cells)
 
 
 def _first_met(play, lines, bounds, condition):
@@ -95,7 +95,7 @@ def _move(play, statement):
 
 def _if(play, statement):
     _, condition, first, second = statement
-    play.go_on(first if play.scene.holds(condition) else second)
+    play.go_on(first if play.scene.meets(condition) else second)
 
 
 def _fail(play, statement):

@@ -69,10 +69,9 @@ class Procedure:
         return len(self._statements)
 
     def __eq__(self, other):
-        if not isinstance(other, Procedure):
+        if not isinstance(other, Procedure) or self._columns != other._columns:
             return False
-        same_names = self._columns == other._columns and self._arguments == other._arguments
-        return same_names and self._statements == other._statements
+        return self._arguments == other._arguments and self._statements == other._statements
 
     def __repr__(self):
         return f"Procedure({len(self)} statements)"

@@ -1,23 +1,18 @@
 """Runs of procedures on tables."""
 
-from lookedrows.boards import Board, Plain, integers_of, plain_numbers
+from lookedrows.boards import Board, Plain, integers_of, plain_numbers, plain_rows
 from lookedrows.errors import ColumnsDiffer, InvalidArguments
 from lookedrows.plays import Play, played
 from lookedrows.tables import Table
-from lookedrows.values import is_whole
+from lookedrows.values import are_whole
 
 
 def _check(procedure, table, numbers):
     """Raises ColumnsDiffer() or InvalidArguments(), if the procedure can't be run so."""
     if procedure.columns != table.columns:
         raise ColumnsDiffer()
-    if len(numbers) != len(procedure.arguments) or not all([is_whole(number) for number in numbers]):
+    if not are_whole(numbers, len(procedure.arguments)):
         raise InvalidArguments()
-
-
-def _plain_rows(table):
-    """The list of the rows of a table, as tuples of numbers."""
-    return [plain_numbers(row) for row in table.rows()]
 
 
 def _table_of(table, cells):
@@ -28,7 +23,7 @@ def _table_of(table, cells):
 def run(procedure, table, *numbers):
     """The pair of the ending and the table behind a run; raises ColumnsDiffer(), InvalidArguments()."""
     _check(procedure, table, numbers)
-    ending, cells = played(procedure, _plain_rows(table), plain_numbers(numbers), Plain())
+    ending, cells = played(procedure, plain_rows(table.rows()), plain_numbers(numbers), Plain())
     if ending[0] == "failed":
         return ending, table
     return ("returned", list(integers_of(ending[1]))), _table_of(table, cells)
@@ -37,7 +32,7 @@ def run(procedure, table, *numbers):
 def walk(procedure, table, *numbers):
     """Yields the tables ahead of the first statement and behind each one that is done; raises as run."""
     _check(procedure, table, numbers)
-    board = Board(_plain_rows(table), Plain())
+    board = Board(plain_rows(table.rows()), Plain())
     play = Play(procedure, board, plain_numbers(numbers))
     yield table
     for statement in procedure.statements():

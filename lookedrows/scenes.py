@@ -7,7 +7,6 @@ class Broken(Exception):
     """A run has failed with this word."""
 
     def __init__(self, word):
-        super().__init__()
         self.word = word
 
 
@@ -47,7 +46,7 @@ class Scene:
         row = own if form == "own" else behind
         return row[self.place(value[1])]
 
-    def holds(self, condition, own=(), behind=()):
+    def meets(self, condition, own=(), behind=()):
         """Whether a condition holds, where own and next columns are those of these rows; raises as line."""
         form = condition[0]
         if form == "true":
@@ -55,11 +54,11 @@ class Scene:
         if form == "found":
             return self.found.get(condition[1]) is not None
         if form == "not":
-            return not self.holds(condition[1], own, behind)
+            return not self.meets(condition[1], own, behind)
         if form == "and":
-            return self.holds(condition[1], own, behind) and self.holds(condition[2], own, behind)
+            return self.meets(condition[1], own, behind) and self.meets(condition[2], own, behind)
         if form == "or":
-            return self.holds(condition[1], own, behind) or self.holds(condition[2], own, behind)
+            return self.meets(condition[1], own, behind) or self.meets(condition[2], own, behind)
         left = self.number(condition[1], own, behind)
         right = self.number(condition[2], own, behind)
         return self._compares(form, left, right)

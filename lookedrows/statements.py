@@ -48,7 +48,7 @@ def checked_statements(statements, scope):
             raise InvalidStatement(path)
         if statement[0] == "if":
             inner = [((*path, at, index), part) for at in (2, 3) for index, part in enumerate(statement[at])]
-            waiting.extend(reversed(inner))
+            waiting.extend(inner[::-1])
     return tuple([_told(statement) for statement in statements])
 
 
@@ -177,9 +177,10 @@ def rows_named(statement):
         if kind == "row":
             found.append(part)
         if kind in ("filter", "condition"):
-            found.extend([inner[1] for _, inner in parts(part) if inner[0] == "found"])
+            found.extend([test[1] for _, test in parts(part) if test[0] == "found"])
     for inner in inner_lists(statement):
-        found.extend([name for each in inner for name in rows_named(each)])
+        for each in inner:
+            found.extend(rows_named(each))
     return found
 
 

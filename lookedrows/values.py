@@ -40,6 +40,11 @@ def is_whole(value):
     return isinstance(value, int) and not isinstance(value, bool)
 
 
+def are_whole(values, many):
+    """Whether some values are so many integers."""
+    return len(values) == many and all([is_whole(value) for value in values])
+
+
 def is_value(value):
     """Whether any value is a value over some columns."""
     if isinstance(value, tuple) and len(value) == 3 and value[0] == "plus":

@@ -625,3 +625,62 @@ def modelled(columns, arguments, statements, rows, numbers):
             return ended.ending, model, tables
         tables.append(model.table())
     return ("returned", []), model, tables
+
+
+# ---- rules, said once more
+
+def rule_read(value, own, behind):
+    if value[0] == "plus":
+        return rule_read(value[1], own, behind) + value[2]
+    if value[0] == "number":
+        return value[1]
+    return {"own": own, "next": behind}[value[0]][value[1]]
+
+
+def rule_holds(c, own, behind=None):
+    """Whether a rule holds for rows that are dicts from columns to integers."""
+    if c[0] in ("true", "not", "and", "or"):
+        inner = [rule_holds(part, own, behind) for part in c[1:]]
+        return {"true": True, "not": not all(inner), "and": all(inner), "or": any(inner)}[c[0]]
+    left, right = [rule_read(value, own, behind) for value in c[1:]]
+    return {"atmost": left <= right, "below": left < right, "same": left == right}[c[0]]
+
+
+def all_broken(columns, rows, nexts, table):
+    """The list of the pairs of the index of a rule and the place of a row for which it does not hold."""
+    told = [dict(zip(columns, row)) for row in sorted(table)]
+    found = [(index, at) for index, c in enumerate(rows) for at, own in enumerate(told) if not rule_holds(c, own)]
+    return found + [(len(rows) + index, at) for index, c in enumerate(nexts)
+                    for at, (own, behind) in enumerate(zip(told, told[1:])) if not rule_holds(c, own, behind)]
+
+
+def shows_no_carrying(columns, rows, nexts, three):
+    """Whether three rows with ascending keys show that next rules do not carry, by the very words of the document."""
+    first, second, third = [dict(zip(columns, row)) for row in three]
+    if not first["key"] < second["key"] < third["key"]:
+        return False
+    if not all(rule_holds(c, own) for c in rows for own in (first, second, third)):
+        return False
+    both = all(rule_holds(c, first, second) and rule_holds(c, second, third) for c in nexts)
+    return both and not all(rule_holds(c, first, third) for c in nexts)
+
+
+class RuleMaker(Maker):
+    """Makes rules over some columns."""
+
+    def value(self, own=False, fields=True):
+        dice = self.dice
+        single = dice.choice([("number", dice.randint(-1, 3)), (dice.choice(self.sides), dice.choice(self.columns)),
+                              (dice.choice(self.sides), dice.choice(self.columns))])
+        return ("plus", single, dice.randint(-2, 2)) if dice.random() < 0.25 else single
+
+    def rule(self, sides, depth):
+        self.sides = sides
+        while True:
+            rule = self.condition(True, depth)
+            if "found" not in repr(rule):
+                return rule
+
+    def rules(self, rows, nexts, depth=2):
+        """The lists of so many row rules and next rules."""
+        return [self.rule(("own",), depth) for _ in range(rows)], [self.rule(("own", "next"), depth) for _ in range(nexts)]

@@ -1,6 +1,7 @@
 """The rules of the language that are plain to check: sizes, signs, imports, words; and the examples of README.md."""
 
 import ast
+import builtins
 import doctest
 import pathlib
 import re
@@ -28,11 +29,60 @@ def nodes(*kinds):
     return [(file, node) for file in FILES for node in ast.walk(ast.parse(read(file))) if isinstance(node, kinds)]
 
 
+# The methods of builtin values and the builtins that the language has, as far as a program of this kind may need them.
+METHODS = set("""append clear copy count endswith extend find get index insert isalnum isalpha isdigit islower isspace isupper
+    items join keys ljust lower lstrip partition pop remove replace reverse rfind rjust rpartition rsplit rstrip setdefault split
+    splitlines startswith strip update upper values zfill bit_length add discard""".split())
+BUILTINS = set("""len range enumerate zip min max sum abs sorted reversed int str bool list tuple dict set isinstance ord repr any
+    all divmod Exception ValueError KeyError IndexError LookupError NotImplemented super property classmethod
+    staticmethod""".split())
+BARRED_NAMES = re.compile(
+    r"__\w+|_(wall|pe_|dcw_|enum_|cm_|twin_re_|lay_|law_|stub_|sre)\w*|_(cold|tuplegetter|outside|record|written_out|member_names)[_0-9]*"
+    r"|register|mro|elements|open|input|law|version_info|with_traceback|add_note|attrgetter|compile|dir|eval|exec|exit|gc|globals|help"
+    r"|id|locals|os|quit|type|vars|sys|license|copyright|credits|format|args|sort|encode|decode|hex")
+SPECIAL = re.compile(r"__(init|eq|repr|str|len|contains|add|sub|and|call|class|name)__")
+# What may go over a zip, a range and the like at once.
+AT_ONCE = {"list", "tuple", "dict", "sorted", "sum", "any", "all", "enumerate", "zip", "len", "reversed", "min", "max"}
+
+
+def classes():
+    return [node for _, node in nodes(ast.ClassDef)]
+
+
+def methods_of(node):
+    return [part for part in node.body if isinstance(part, ast.FunctionDef)]
+
+
+def decorators(method):
+    return [each.id if isinstance(each, ast.Name) else each.attr for each in method.decorator_list]
+
+
+def properties():
+    return {method.name for node in classes() for method in methods_of(node) if decorators(method)[:1] == ["property"]}
+
+
+def setters():
+    return {method.name for node in classes() for method in methods_of(node) if decorators(method)[:1] == ["setter"]}
+
+
+def plain_methods():
+    return {method.name for node in classes() for method in methods_of(node) if "property" not in decorators(method)}
+
+
+def stored_attributes():
+    return {node.attr for _, node in nodes(ast.Attribute) if isinstance(node.ctx, ast.Store)}
+
+
+def parents(tree):
+    return {child: node for node in ast.walk(tree) for child in ast.iter_child_nodes(node)}
+
+
 class TestLanguage(unittest.TestCase):
 
     def test_there_are_files(self):
         names = [file.name for file in FILES]
-        for name in ("__init__.py", "errors.py", "values.py", "conditions.py"):
+        for name in ("__init__.py", "errors.py", "values.py", "conditions.py", "systems.py", "tables.py", "procedures.py", "running.py",
+                     "rules.py", "cases.py", "verdicts.py"):
             self.assertIn(name, names)
 
     def test_signs_and_lengths(self):
@@ -64,6 +114,79 @@ class TestLanguage(unittest.TestCase):
                 else:
                     source = read(HOME / (node.module.replace(".", "/") + ".py"))
                     self.assertRegex(source, rf"(?m)^((def|class) {alias.name}\b|{alias.name} = )", file)
+
+    def test_properties_are_neither_methods_nor_assigned(self):
+        self.assertEqual(properties() & (plain_methods() - setters()), set())
+        self.assertEqual(properties() & (stored_attributes() - setters()), set())
+
+    def test_no_name_is_a_method_and_an_attribute(self):
+        self.assertEqual(plain_methods() & stored_attributes() - setters(), set())
+
+    def test_attributes_and_methods_are_known(self):
+        known = properties() | plain_methods() | stored_attributes() | METHODS | {"__class__", "__name__"}
+        for file, node in nodes(ast.Attribute):
+            self.assertIn(node.attr, known, (file, node.lineno))
+
+    def test_own_methods_are_not_those_of_builtin_values(self):
+        values = ("", 0, b"", [], (), {}, set())
+        taken = {name for value in values for name in dir(value) if not name.startswith("__")}
+        self.assertEqual((plain_methods() | properties()) & taken, set())
+
+    def test_names(self):
+        for file in FILES:
+            tree = ast.parse(read(file))
+            bound = {node.name for node in tree.body if isinstance(node, (ast.FunctionDef, ast.ClassDef))}
+            bound |= {alias.name for node in tree.body if isinstance(node, ast.ImportFrom) for alias in node.names}
+            outer = set(bound)
+            outer |= {target.id for node in tree.body if isinstance(node, ast.Assign) for target in node.targets}
+            local = [node.arg for node in ast.walk(tree) if isinstance(node, ast.arg)]
+            local += [node.id for node in ast.walk(tree) if isinstance(node, ast.Name) and isinstance(node.ctx, ast.Store)
+                      and node.id not in outer]
+            local += [node.name for node in ast.walk(tree) if isinstance(node, ast.ExceptHandler) and node.name]
+            for name in local:
+                self.assertNotIn(name, bound, file)
+                self.assertFalse(hasattr(builtins, name), (file, name))
+            stored = {node.id for node in ast.walk(tree) if isinstance(node, ast.Name) and isinstance(node.ctx, ast.Store)}
+            for node in ast.walk(tree):
+                if isinstance(node, ast.Name) and isinstance(node.ctx, ast.Load) and node.id not in stored | bound | set(local):
+                    self.assertIn(node.id, BUILTINS, (file, node.lineno))
+                for name in (getattr(node, "id", None), getattr(node, "attr", None), getattr(node, "arg", None), getattr(node, "name", None)):
+                    if isinstance(name, str) and not SPECIAL.fullmatch(name):
+                        self.assertIsNone(BARRED_NAMES.fullmatch(name), (file, node.lineno, name))
+
+    def test_statements_and_expressions(self):
+        barred = (ast.GeneratorExp, ast.Global, ast.AsyncFunctionDef, ast.Await)
+        self.assertEqual([(file, node.lineno) for file, node in nodes(*barred)], [])
+        self.assertEqual([file for file, node in nodes(ast.BinOp) if isinstance(node.op, ast.Div)], [])
+        for file, node in nodes(ast.Compare):
+            for sign, side in zip(node.ops, node.comparators):
+                if isinstance(sign, (ast.Is, ast.IsNot)):
+                    self.assertIsInstance(side, ast.Constant, (file, node.lineno))
+
+    def test_zips_and_their_like_are_iterated_at_once(self):
+        for file in FILES:
+            tree = ast.parse(read(file))
+            above = parents(tree)
+            generators = {node.name for _, node in nodes(ast.FunctionDef) if any(isinstance(part, (ast.Yield, ast.YieldFrom)) for part in ast.walk(node))}
+            for node in ast.walk(tree):
+                if isinstance(node, ast.Call) and isinstance(node.func, ast.Name) and node.func.id in {
+                        "zip", "enumerate", "range", "reversed", *generators}:
+                    around = above[node]
+                    if isinstance(around, ast.Call) and isinstance(around.func, ast.Name):
+                        self.assertIn(around.func.id, AT_ONCE, (file, node.lineno))
+                    else:
+                        self.assertIsInstance(around, (ast.For, ast.comprehension), (file, node.lineno))
+                        self.assertIs(around.iter, node)
+                if isinstance(node, ast.Call) and isinstance(node.func, ast.Attribute) and node.func.attr in ("items", "keys", "values"):
+                    around = above[node]
+                    self.assertTrue(isinstance(around, (ast.For, ast.comprehension)) or around.func.id in AT_ONCE, (file, node.lineno))
+
+    def test_what_double_underscore_methods_do(self):
+        for node in classes():
+            for method in methods_of(node):
+                if method.name in ("__eq__", "__repr__", "__len__"):
+                    self.assertIsInstance(method.body[-1], ast.Return)
+                    self.assertEqual([part for part in ast.walk(method) if isinstance(part, (ast.Assign, ast.AugAssign))], [])
 
     def test_python_gives_no_warning(self):
         with warnings.catch_warnings():
