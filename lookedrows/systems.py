@@ -60,7 +60,6 @@ def _solved(comparisons):
         places[left] = 0
         places[right] = 0
     lowering = {}
-    lowered = None
     # Each unknown is lowered until all comparisons hold. Where there is no ring, one round less than there are
     # unknowns is enough, so a last round that still lowers one shows a ring.
     for _ in range(len(places)):

@@ -25,7 +25,8 @@ WRONG = (
     (), [], (None,), (True,), ("true", "true"), ["true"], ("True",), ("found",), ("found", "r", "r"), ("found", "key"),
     ("found", ("name", "a")), ("number",), ("number", 1, 1), ("number", True), ("number", "1"), ("number", None),
     ("number", BOUND + 1), ("number", -BOUND - 1), ["number", 1], ("numbers", 1), ("name", "A"), ("name", "key"),
-    ("name", ["a"]), ["name", "a"], ("field", "r"), ("field", "own", "end"), ("field", "r", "own"), ("field", "r", None),
+    ("name", ["a"]), ["name", "a"], ("field", "r"), ("field", "own", "end"), ("field", "r", "own"),
+    ("field", "r", None),
     ["field", "r", "end"], ("own", "next"), ("own",), ("own", "a", "b"), ["own", "key"], ("next", "not"), ("next", 0),
     ("plus", ("name", "a")), ("plus", ["name", "a"], 1), ("plus", ("name", "a"), True), ("plus", ("name", "a"), None),
     ("plus", ("name", "a"), BOUND + 1), ("plus", ("plus", ("name", "a"), 1), 1), ("plus", 1, ("name", "a")),
@@ -683,4 +684,5 @@ class RuleMaker(Maker):
 
     def rules(self, rows, nexts, depth=2):
         """The lists of so many row rules and next rules."""
-        return [self.rule(("own",), depth) for _ in range(rows)], [self.rule(("own", "next"), depth) for _ in range(nexts)]
+        first = [self.rule(("own",), depth) for _ in range(rows)]
+        return first, [self.rule(("own", "next"), depth) for _ in range(nexts)]

@@ -76,7 +76,7 @@ class Checks(unittest.TestCase):
             self.assertEqual(len(case.rows()), many)
 
     def check_point(self, rules, procedure, cases, table, numbers):
-        """Exactly one case matches a table that keeps the rules, and no case one that does not; the run is as it tells."""
+        """Exactly one case matches a table that keeps the rules, none one that does not; the run is as it tells."""
         matching = [case for case in cases if case.matches(table, *numbers)]
         if not rules.keeps(table):
             self.assertEqual(matching, [])
@@ -87,7 +87,8 @@ class Checks(unittest.TestCase):
         ending, behind = run(procedure, table, *numbers)
         word, told = case.ending
         self.assertEqual((word, put_in(told, known) if word == "returned" else told), ending)
-        self.assertEqual([tuple(put_in(row, known)) for row in case.rows()], behind.rows(), (procedure.statements(), table.rows()))
+        self.assertEqual([tuple(put_in(row, known)) for row in case.rows()], behind.rows(),
+                         (procedure.statements(), table.rows()))
 
     def check_example(self, rules, procedure, cases, case, many):
         """What solves a system is a table and arguments of its case, whatever has no part in it."""
@@ -106,7 +107,8 @@ class Checks(unittest.TestCase):
         """All tables and arguments of a small grid, or some of them, if there are more than the most."""
         tables = tables_of(columns, many, high)
         if len(tables) * high ** arguments <= most:
-            return [(table, numbers) for table in tables for numbers in itertools.product(range(high), repeat=arguments)]
+            given = list(itertools.product(range(high), repeat=arguments))
+            return [(table, numbers) for table in tables for numbers in given]
         return [(dice.choice(tables), [dice.randrange(high) for _ in range(arguments)]) for _ in range(most)]
 
 
@@ -122,31 +124,39 @@ class TestCasesOf(Checks):
     def test_keys_alone_over_a_whole_grid(self):
         tell = ("return", (("field", "r", "key"), ("plus", A, 2), ONE))
         for statements in (
-            [("insert", "r", [A]), ("step", "s", "next", "r"), ("delete", "s")], [("move", A, -2), ("find", "r", "last", ALL, YES), tell],
-            [("move", A, 1), ("move", ("plus", A, 2), -2)], [("clear", (A, ("plus", A, 2)), ("not", ("same", KEY, ONE)))],
-            [("find", "r", "first", (A, None), YES), ("if", ("same", ("field", "r", "key"), A), [("delete", "r")], [tell])],
+            [("insert", "r", [A]), ("step", "s", "next", "r"), ("delete", "s")],
+            [("move", A, -2), ("find", "r", "last", ALL, YES), tell],
+            [("move", A, 1), ("move", ("plus", A, 2), -2)],
+            [("clear", (A, ("plus", A, 2)), ("not", ("same", KEY, ONE)))],
+            [("find", "r", "first", (A, None), YES), ("if", ("same", ("field", "r", "key"), A), [("delete", "r")],
+                                                      [tell])],
             [("return", (("plus", A, -3), ("number", 4)))], [],
         ):
             procedure = Procedure([], ["a"], statements)
             for many in range(4):
                 points = self.points([], 1, many, 6, None, 10 ** 9)
                 self.check(Rules([]), procedure, many, points)
-                gaps = Rules([], rows=[("not", ("same", KEY, ("number", 3)))], nexts=[("below", ("plus", KEY, 1), ("next", "key"))])
+                gaps = Rules([], rows=[("not", ("same", KEY, ("number", 3)))],
+                             nexts=[("below", ("plus", KEY, 1), ("next", "key"))])
                 self.check(gaps, procedure, many, points)
 
     def test_fields_moves_changes_and_inserts(self):
         field = ("field", "r", "end")
         for statements in (
-            [("find", "r", "last", (None, A), YES), ("change", ALL, ("below", END, field), "end", ("plus", field, 1)), ("return", [field])],
-            [("find", "r", "first", ALL, ("same", END, A)), ("move", field, 2), ("set", "r", "end", ("field", "r", "key"))],
+            [("find", "r", "last", (None, A), YES), ("change", ALL, ("below", END, field), "end", ("plus", field, 1)),
+             ("return", [field])],
+            [("find", "r", "first", ALL, ("same", END, A)), ("move", field, 2),
+             ("set", "r", "end", ("field", "r", "key"))],
             [("insert", "r", (A, A)), ("move", A, -1), ("change", (A, None), YES, "end", ("plus", KEY, -1))],
-            [("find", "r", "first", ALL, ("below", KEY, END)), ("clear", (("field", "r", "key"), None), ("atmost", END, field))],
+            [("find", "r", "first", ALL, ("below", KEY, END)),
+             ("clear", (("field", "r", "key"), None), ("atmost", END, field))],
         ):
             procedure = Procedure(["end"], ["a"], statements)
             for many in range(4):
                 points = self.points(["end"], 1, many, 4, random.Random(3), 400)
                 self.check(Rules(["end"]), procedure, many, points)
-                self.check(Rules(["end"], rows=[("atmost", END, ("number", 2))], nexts=[("atmost", END, ("next", "end"))]), procedure, many, points)
+                self.check(Rules(["end"], rows=[("atmost", END, ("number", 2))],
+                                 nexts=[("atmost", END, ("next", "end"))]), procedure, many, points)
 
     def test_random_procedures_and_rules(self):
         seen = {}
@@ -198,8 +208,8 @@ class TestCasesOf(Checks):
                 self.assertTrue(cases[0].matches(Table(["end"], [(at, -GREAT * at) for at in range(many)]), *numbers))
 
     def test_many_by_name_and_equal_calls(self):
-        told = [(case.system.told(), case.ending, case.rows()) for case in cases_of(SPANS, BOOK, 2)]
-        again = [(case.system.told(), case.ending, case.rows()) for case in cases_of(many=2, procedure=BOOK, rules=SPANS)]
+        told, again = [[(case.system.told(), case.ending, case.rows()) for case in cases]
+                       for cases in (cases_of(SPANS, BOOK, 2), cases_of(many=2, procedure=BOOK, rules=SPANS))]
         self.assertEqual(told, again)
 
     def test_errors(self):
@@ -268,7 +278,8 @@ class TestCase(unittest.TestCase):
     def test_wrong_arguments(self):
         case = Case(System(), ("returned", []), [], arguments=["a", "b"], many=0)
         for table in (Table([]), Table([], [(1,)])):
-            for numbers in ((), (1,), (1, 2, 3), (True, 1), (1, False), (None, 1), (1, ""), ("1", 1), ((1,), 1), (1, [2])):
+            for numbers in ((), (1,), (1, 2, 3), (True, 1), (1, False), (None, 1), (1, ""), ("1", 1), ((1,), 1),
+                            (1, [2])):
                 with self.assertRaises(InvalidArguments) as caught:
                     case.matches(table, *numbers)
                 self.assertEqual(caught.exception.code, "InvalidArguments")

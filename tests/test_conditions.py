@@ -76,7 +76,8 @@ class TestTexts(unittest.TestCase):
 
     def test_values_of_all_forms_are_read_back(self):
         for value in values():
-            for condition in (("atmost", value, ("own", "end")), ("below", ("number", 1), value), ("same", value, value)):
+            for condition in (("atmost", value, ("own", "end")), ("below", ("number", 1), value),
+                              ("same", value, value)):
                 text = condition_text(condition)
                 self.assertEqual(read_condition(text), condition)
                 self.assertEqual(condition_of(text), condition)
@@ -241,7 +242,8 @@ class TestReadCondition(unittest.TestCase):
 
     def test_texts_of_no_condition(self):
         for text in (
-            "", " ", "\n", "True", "true ", " true", "true\n", "\ntrue", "truetrue", "true true", "(true)", "()", "(", ")",
+            "", " ", "\n", "True", "true ", " true", "true\n", "\ntrue", "truetrue", "true true", "(true)", "()", "(",
+            ")",
             "not", "not ", "nottrue", "not  true", "not(true and true)", "not true ", "found", "found ", "found R",
             "found key", "found true", "found  r", "found r ", "found r s", "found r.end", "found sevenso", "not found",
             "true and true", "(true and true", "true and true)", "((true and true))", "(true and true) ",
@@ -253,7 +255,8 @@ class TestReadCondition(unittest.TestCase):
             "a - 0 < b", "a + b < c", "a + 1 + 1 < b", "a < b + 1 + 1", "key < a", "own < a", "true < a", "not < a",
             "found < a", "a < true", "a < found r", "a < not b", "a and b < c", "A < b", "01 < a", "-0 < a", "+1 < a",
             "own.own < a", "a < next.set", "not a", "not a <", "(a < b)", "(a < b) and true", "(a < (b and c))",
-            f"a < {BOUND + 1}", f"a < b - {BOUND + 1}", "a < " + "9" * 5000, "not " * 1000 + "true", "not " * 6 + "true",
+            f"a < {BOUND + 1}", f"a < b - {BOUND + 1}", "a < " + "9" * 5000, "not " * 1000 + "true",
+            "not " * 6 + "true",
             "(" * 4000, "(" * 1000 + "true" + " and true)" * 1000, "(" * 6 + "true" + " and true)" * 6,
             "(true and " * 6 + "true" + ")" * 6, "not " * 5 + "(true and true)",
         ):
@@ -300,7 +303,8 @@ class TestReadCondition(unittest.TestCase):
 
     def test_texts_with_words_changed(self):
         dice = random.Random(11)
-        words = ("true", "not", "and", "or", "found", "r", "a", "<", "<=", "=", "+", "-", "0", "1", "(", ")", "", "own.key")
+        words = ("true", "not", "and", "or", "found", "r", "a", "<", "<=", "=", "+", "-", "0", "1", "(", ")", "",
+                 "own.key")
         for condition in some_conditions(12, 150):
             text = condition_text(condition).split(" ")
             for _ in range(6):

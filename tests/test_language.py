@@ -13,7 +13,8 @@ FILES = sorted((HOME / "lookedrows").rglob("*.py"))
 LIBRARY = {
     "heapq": {"heappush", "heappop", "heapify", "heapreplace", "heappushpop"},
     "math": {"gcd", "lcm", "isqrt", "comb", "perm", "factorial"},
-    "itertools": {"product", "combinations", "permutations", "chain", "accumulate", "pairwise", "islice", "zip_longest"},
+    "itertools": {"product", "combinations", "permutations", "chain", "accumulate", "pairwise", "islice",
+                  "zip_longest"},
     "collections": {"defaultdict", "deque"},
     "__future__": {"annotations"},
 }
@@ -30,16 +31,17 @@ def nodes(*kinds):
 
 
 # The methods of builtin values and the builtins that the language has, as far as a program of this kind may need them.
-METHODS = set("""append clear copy count endswith extend find get index insert isalnum isalpha isdigit islower isspace isupper
-    items join keys ljust lower lstrip partition pop remove replace reverse rfind rjust rpartition rsplit rstrip setdefault split
-    splitlines startswith strip update upper values zfill bit_length add discard""".split())
-BUILTINS = set("""len range enumerate zip min max sum abs sorted reversed int str bool list tuple dict set isinstance ord repr any
-    all divmod Exception ValueError KeyError IndexError LookupError NotImplemented super property classmethod
-    staticmethod""".split())
+METHODS = set("""append clear copy count endswith extend find get index insert isalnum isalpha isdigit islower isspace
+    isupper items join keys ljust lower lstrip partition pop remove replace reverse rfind rjust rpartition rsplit rstrip
+    setdefault split splitlines startswith strip update upper values zfill bit_length add discard""".split())
+BUILTINS = set("""len range enumerate zip min max sum abs sorted reversed int str bool list tuple dict set isinstance
+    ord repr any all divmod Exception ValueError KeyError IndexError LookupError NotImplemented super property
+    classmethod staticmethod""".split())
 BARRED_NAMES = re.compile(
-    r"__\w+|_(wall|pe_|dcw_|enum_|cm_|twin_re_|lay_|law_|stub_|sre)\w*|_(cold|tuplegetter|outside|record|written_out|member_names)[_0-9]*"
-    r"|register|mro|elements|open|input|law|version_info|with_traceback|add_note|attrgetter|compile|dir|eval|exec|exit|gc|globals|help"
-    r"|id|locals|os|quit|type|vars|sys|license|copyright|credits|format|args|sort|encode|decode|hex")
+    r"__\w+|_(wall|pe_|dcw_|enum_|cm_|twin_re_|lay_|law_|stub_|sre)\w*"
+    r"|_(cold|tuplegetter|outside|record|written_out|member_names)[_0-9]*"
+    r"|register|mro|elements|open|input|law|version_info|with_traceback|add_note|attrgetter|compile|dir|eval|exec|exit"
+    r"|gc|globals|help|id|locals|os|quit|type|vars|sys|license|copyright|credits|format|args|sort|encode|decode|hex")
 SPECIAL = re.compile(r"__(init|eq|repr|str|len|contains|add|sub|and|call|class|name)__")
 # What may go over a zip, a range and the like at once.
 AT_ONCE = {"list", "tuple", "dict", "sorted", "sum", "any", "all", "enumerate", "zip", "len", "reversed", "min", "max"}
@@ -77,11 +79,24 @@ def parents(tree):
     return {child: node for node in ast.walk(tree) for child in ast.iter_child_nodes(node)}
 
 
+def stored_names(tree):
+    """The names of parameters, variables and caught errors."""
+    found = {node.arg for node in ast.walk(tree) if isinstance(node, ast.arg)}
+    found |= {node.id for node in ast.walk(tree) if isinstance(node, ast.Name) and isinstance(node.ctx, ast.Store)}
+    return found | {node.name for node in ast.walk(tree) if isinstance(node, ast.ExceptHandler) and node.name}
+
+
+def generators():
+    return {node.name for _, node in nodes(ast.FunctionDef)
+            if any(isinstance(part, (ast.Yield, ast.YieldFrom)) for part in ast.walk(node))}
+
+
 class TestLanguage(unittest.TestCase):
 
     def test_there_are_files(self):
         names = [file.name for file in FILES]
-        for name in ("__init__.py", "errors.py", "values.py", "conditions.py", "systems.py", "tables.py", "procedures.py", "running.py",
+        for name in ("__init__.py", "errors.py", "values.py", "conditions.py", "systems.py", "tables.py",
+                     "procedures.py", "running.py",
                      "rules.py", "cases.py", "verdicts.py"):
             self.assertIn(name, names)
 
@@ -137,20 +152,16 @@ class TestLanguage(unittest.TestCase):
             tree = ast.parse(read(file))
             bound = {node.name for node in tree.body if isinstance(node, (ast.FunctionDef, ast.ClassDef))}
             bound |= {alias.name for node in tree.body if isinstance(node, ast.ImportFrom) for alias in node.names}
-            outer = set(bound)
-            outer |= {target.id for node in tree.body if isinstance(node, ast.Assign) for target in node.targets}
-            local = [node.arg for node in ast.walk(tree) if isinstance(node, ast.arg)]
-            local += [node.id for node in ast.walk(tree) if isinstance(node, ast.Name) and isinstance(node.ctx, ast.Store)
-                      and node.id not in outer]
-            local += [node.name for node in ast.walk(tree) if isinstance(node, ast.ExceptHandler) and node.name]
+            values = {target.id for node in tree.body if isinstance(node, ast.Assign) for target in node.targets}
+            local = stored_names(tree) - values
             for name in local:
                 self.assertNotIn(name, bound, file)
                 self.assertFalse(hasattr(builtins, name), (file, name))
-            stored = {node.id for node in ast.walk(tree) if isinstance(node, ast.Name) and isinstance(node.ctx, ast.Store)}
             for node in ast.walk(tree):
-                if isinstance(node, ast.Name) and isinstance(node.ctx, ast.Load) and node.id not in stored | bound | set(local):
+                if isinstance(node, ast.Name) and node.id not in bound | values | local:
                     self.assertIn(node.id, BUILTINS, (file, node.lineno))
-                for name in (getattr(node, "id", None), getattr(node, "attr", None), getattr(node, "arg", None), getattr(node, "name", None)):
+                for part in ("id", "attr", "arg", "name"):
+                    name = getattr(node, part, None)
                     if isinstance(name, str) and not SPECIAL.fullmatch(name):
                         self.assertIsNone(BARRED_NAMES.fullmatch(name), (file, node.lineno, name))
 
@@ -164,29 +175,32 @@ class TestLanguage(unittest.TestCase):
                     self.assertIsInstance(side, ast.Constant, (file, node.lineno))
 
     def test_zips_and_their_like_are_iterated_at_once(self):
+        names = {"zip", "enumerate", "range", "reversed", *generators()}
         for file in FILES:
             tree = ast.parse(read(file))
             above = parents(tree)
-            generators = {node.name for _, node in nodes(ast.FunctionDef) if any(isinstance(part, (ast.Yield, ast.YieldFrom)) for part in ast.walk(node))}
-            for node in ast.walk(tree):
-                if isinstance(node, ast.Call) and isinstance(node.func, ast.Name) and node.func.id in {
-                        "zip", "enumerate", "range", "reversed", *generators}:
-                    around = above[node]
-                    if isinstance(around, ast.Call) and isinstance(around.func, ast.Name):
-                        self.assertIn(around.func.id, AT_ONCE, (file, node.lineno))
-                    else:
-                        self.assertIsInstance(around, (ast.For, ast.comprehension), (file, node.lineno))
-                        self.assertIs(around.iter, node)
-                if isinstance(node, ast.Call) and isinstance(node.func, ast.Attribute) and node.func.attr in ("items", "keys", "values"):
-                    around = above[node]
-                    self.assertTrue(isinstance(around, (ast.For, ast.comprehension)) or around.func.id in AT_ONCE, (file, node.lineno))
+            for node in [node for node in ast.walk(tree) if isinstance(node, ast.Call)]:
+                around = above[node]
+                if isinstance(node.func, ast.Name) and node.func.id in names:
+                    self.check_iterated(around, node, file)
+                if isinstance(node.func, ast.Attribute) and node.func.attr in ("items", "keys", "values"):
+                    self.check_iterated(around, node, file)
+
+    def check_iterated(self, around, node, file):
+        if isinstance(around, ast.Call):
+            self.assertIsInstance(around.func, ast.Name, (file, node.lineno))
+            self.assertIn(around.func.id, AT_ONCE, (file, node.lineno))
+        else:
+            self.assertIsInstance(around, (ast.For, ast.comprehension), (file, node.lineno))
+            self.assertIs(around.iter, node)
 
     def test_what_double_underscore_methods_do(self):
         for node in classes():
             for method in methods_of(node):
                 if method.name in ("__eq__", "__repr__", "__len__"):
                     self.assertIsInstance(method.body[-1], ast.Return)
-                    self.assertEqual([part for part in ast.walk(method) if isinstance(part, (ast.Assign, ast.AugAssign))], [])
+                    for part in ast.walk(method):
+                        self.assertNotIsInstance(part, (ast.Assign, ast.AugAssign))
 
     def test_python_gives_no_warning(self):
         with warnings.catch_warnings():

@@ -13,7 +13,8 @@ A, B, ONE = ("name", "a"), ("name", "b"), ("number", 1)
 R_END, OWN_END = ("field", "r", "end"), ("own", "end")
 YES = ("true",)
 WRONG_ARGUMENTS = (
-    None, True, False, 0, "", "a", "ab", ["a", "a"], ["a", "b", "a"], ["a", "b", "c", "d"], ["key"], ["A"], [""], ["own"],
+    None, True, False, 0, "", "a", "ab", ["a", "a"], ["a", "b", "a"], ["a", "b", "c", "d"], ["key"], ["A"], [""],
+    ["own"],
     ["sevenll"], [None], [True], [1], [["a"]], [("a",)], ("b", "b"), ["a", 0], [A], {"a": 1},
 )
 # Statements over the columns key and end, and over the arguments a and b.
@@ -25,9 +26,11 @@ RIGHT = (
     ("insert", "end", (("plus", R_END, 10 ** 30), ("plus", A, 0))), ("delete", "r"), ("delete", "fail"),
     ("set", "r", "end", A), ("set", "b", "end", ("field", "b", "key")), ("clear", (None, None), YES),
     ("clear", (A, R_END), ("or", ("atmost", OWN_END, ("own", "key")), ("found", "r"))),
-    ("change", (None, B), YES, "end", OWN_END), ("change", (A, None), ("found", "r"), "end", ("plus", ("own", "key"), -5)),
+    ("change", (None, B), YES, "end", OWN_END), ("change", (A, None), ("found", "r"), "end",
+                                                 ("plus", ("own", "key"), -5)),
     ("move", A, -10 ** 30), ("move", ("plus", R_END, 2), 10 ** 30), ("move", ONE, 0),
-    ("if", YES, (), ()), ("if", ("same", R_END, A), [], [("delete", "r")]), ("if", ("found", "r"), (("fail", "x"),), []),
+    ("if", YES, (), ()), ("if", ("same", R_END, A), [], [("delete", "r")]),
+    ("if", ("found", "r"), (("fail", "x"),), []),
     ("if", YES, [("if", YES, (("if", YES, (), []),), ())], ()), ("fail", "busy"), ("fail", "none"), ("fail", "sixsix"),
     ("return", ()), ("return", []), ("return", [A, B, ONE, R_END]), ("return", (("plus", A, 1),)),
 )
@@ -40,7 +43,8 @@ OWN = (OWN_END, ("own", "key"), ("plus", OWN_END, 1))
 NO_OWN = (("own", "price"), ("own", "a"), ("plus", ("own", "b"), 1))
 NO_CONDITIONS = tuple(("below", wrong, A) for wrong in NO_VALUES + NO_OWN) + tuple(
     ("not", ("same", A, wrong)) for wrong in NO_VALUES + NO_OWN) + (
-    None, True, 0, "true", "", (), [], ["true"], ("found", "own"), ("found", "R"), ("maybe",), ("and", YES), ("or", YES, None),
+    None, True, 0, "true", "", (), [], ["true"], ("found", "own"), ("found", "R"), ("maybe",), ("and", YES),
+    ("or", YES, None),
     ("not", ("not", ("not", ("not", ("not", ("not", YES)))))), (["not"], YES), ("not", ["true"]))
 OWN_CONDITIONS = tuple(("or", ("below", own, A), YES) for own in OWN) + tuple(("not", ("same", A, own)) for own in OWN)
 NO_NAMES = (None, True, 0, "", "R", "key", "own", "sevenll", ("r",), ["r"], (), ("name", "a"))
@@ -78,7 +82,8 @@ def wrong_statements():
     found += [("return", wrong) for wrong in (None, 0, "", "ab", True, A, (A, B, A, B, A), [A] * 5)]
     found += [("return", (wrong,)) for wrong in NO_VALUES + OWN + NO_OWN]
     for right in RIGHT:
-        found += [right[:-1], (*right, right[-1]), list(right), (right[0].upper(), *right[1:]), ([right[0]], *right[1:])]
+        found += [right[:-1], (*right, right[-1]), list(right), (right[0].upper(), *right[1:]),
+                  ([right[0]], *right[1:])]
     return found + list(WRONG)
 
 
@@ -190,7 +195,8 @@ class TestMaking(unittest.TestCase):
     def test_too_deep(self):
         third = ("if", YES, (), ())
         fourth = ("if", YES, (), [("delete", "r")])
-        for inner, path in ((third, None), (fourth, (0, 2, 0, 3, 0, 3, 0)), (("if", YES, [third], [None]), (0, 2, 0, 3, 0, 2, 0)),
+        for inner, path in ((third, None), (fourth, (0, 2, 0, 3, 0, 3, 0)),
+                            (("if", YES, [third], [None]), (0, 2, 0, 3, 0, 2, 0)),
                             (("if", YES, None, []), (0, 2, 0, 3, 0))):
             statements = [("if", YES, [("if", YES, [], [inner])], [])]
             self.assertEqual(path_of([], [], statements), path)
@@ -291,7 +297,8 @@ class TestParts(unittest.TestCase):
 
     def test_found_names(self):
         for statement, names in (
-            (("find", "r", "first", (("field", "s", "end"), R_END), ("and", ("found", "q"), ("same", ("field", "z", "key"), A))),
+            (("find", "r", "first", (("field", "s", "end"), R_END),
+              ("and", ("found", "q"), ("same", ("field", "z", "key"), A))),
              ["q", "r", "s", "z"]),
             (("find", "r", "first", (None, ("plus", ("field", "t", "key"), 1)), YES), ["r", "t"]),
             (("step", "s", "next", "r"), ["r", "s"]), (("insert", "i", (A, ("plus", R_END, 1))), ["i", "r"]),
@@ -341,27 +348,35 @@ class TestLooksAndLate(unittest.TestCase):
             ([], 0), ([find], 1), ([step], 1), ([insert], 1), ([move], 2), ([("delete", "r")], 0),
             ([("clear", (None, None), YES)], 0), ([("fail", "x")], 0), ([("return", [])], 0),
             ([find, step, insert, move, move], 7), ([("if", YES, [], [])], 0), ([("if", YES, [find], [move, move])], 4),
-            ([("if", YES, [move, find], [find])], 3), ([find, ("if", YES, [("if", YES, [find], [move])], [insert]), find], 4),
+            ([("if", YES, [move, find], [find])], 3), ([find, ("if", YES, [("if", YES, [find], [move])], [insert]),
+                                                        find], 4),
         ):
             self.assertEqual(Procedure([], [], statements).looks, looks)
-        self.assertEqual(Procedure(["a"], [], [("set", "r", "a", ONE), ("change", (None, None), YES, "a", ONE)]).looks, 0)
+        self.assertEqual(Procedure(["a"], [], [("set", "r", "a", ONE), ("change", (None, None), YES, "a", ONE)]).looks,
+                         0)
 
     def test_late_by_hand(self):
         clear, fail, field = ("clear", (None, None), YES), ("fail", "x"), ("return", [("field", "r", "key")])
         quiet, find = ("if", YES, [], []), ("find", "r", "first", (None, None), YES)
         asking = ("if", ("same", ("field", "r", "key"), ONE), [], [])
         for statements, late in (
-            ([], None), ([clear], None), ([fail, clear], None), ([clear, fail], 1), ([clear, clear, find, quiet, fail], 4),
+            ([], None), ([clear], None), ([fail, clear], None), ([clear, fail], 1),
+            ([clear, clear, find, quiet, fail], 4),
             ([clear, find], None), ([clear, field], 1), ([clear, ("return", [ONE])], None), ([clear, asking], 1),
             ([asking, clear], None), ([clear, ("find", "r", "first", (("field", "r", "key"), None), YES)], 1),
             ([clear, ("clear", (None, None), ("same", ("plus", ("field", "r", "key"), 1), ONE))], 1),
-            ([("if", YES, [clear], [fail])], None), ([("if", YES, [clear, fail], [])], 0), ([("if", YES, [], [clear, fail])], 0),
+            ([("if", YES, [clear], [fail])], None), ([("if", YES, [clear, fail], [])], 0),
+            ([("if", YES, [], [clear, fail])], 0),
             ([("if", YES, [clear], []), fail], 1), ([("if", YES, [], [("if", YES, [clear], [])]), quiet, fail], 2),
             ([clear, ("if", YES, [], [("if", YES, [], [fail])])], 1), ([clear, ("if", YES, [clear], [find])], None),
-            ([("if", YES, [("if", YES, [], [clear]), fail], [])], 0), ([fail, ("if", YES, [fail, clear], [clear])], None),
-            ([clear, ("step", "r", "next", "r")], 1), ([clear, ("delete", "r")], 1), ([clear, ("insert", "r", [ONE])], 1),
-            ([clear, ("move", ONE, 1)], 1), ([("move", ONE, 1), ("move", ONE, 1)], 1), ([("insert", "r", [ONE]), clear], None),
-            ([("delete", "r"), fail], 1), ([("move", ONE, 1), fail], 1), ([("insert", "r", [ONE]), fail], 1), ([fail, fail], None),
+            ([("if", YES, [("if", YES, [], [clear]), fail], [])], 0),
+            ([fail, ("if", YES, [fail, clear], [clear])], None),
+            ([clear, ("step", "r", "next", "r")], 1), ([clear, ("delete", "r")], 1),
+            ([clear, ("insert", "r", [ONE])], 1),
+            ([clear, ("move", ONE, 1)], 1), ([("move", ONE, 1), ("move", ONE, 1)], 1),
+            ([("insert", "r", [ONE]), clear], None),
+            ([("delete", "r"), fail], 1), ([("move", ONE, 1), fail], 1), ([("insert", "r", [ONE]), fail], 1),
+            ([fail, fail], None),
             ([("step", "r", "next", "r"), fail], None), ([("return", []), fail], None), ([find, fail], None),
         ):
             procedure = Procedure([], [], statements)

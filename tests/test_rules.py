@@ -17,17 +17,22 @@ YES = ("true",)
 GREAT = 10 ** 30
 # Row rules and next rules over the columns key and end; the next rules carry with the row rules.
 ROW_RULES = (("below", KEY, END), ("atmost", ("number", -5), END), ("not", ("same", KEY, ("plus", END, 3))), YES)
-NEXT_RULES = (("atmost", END, NEXT_KEY), ("below", KEY, NEXT_KEY), ("or", YES, ("same", END, NEXT_END)), ("atmost", END, NEXT_END))
+NEXT_RULES = (("atmost", END, NEXT_KEY), ("below", KEY, NEXT_KEY), ("or", YES, ("same", END, NEXT_END)),
+              ("atmost", END, NEXT_END))
 # This next rule carries only if all ends are at least 1.
 SLOW = ("or", ("below", END, NEXT_END), ("same", END, ONE))
 WRONG_VALUES = (
-    ("name", "a"), ("field", "r", "end"), ("own", "price"), ("own", "r"), ("plus", ("name", "a"), 1), ("plus", ("own", "a"), 1),
-    ("plus", ("field", "r", "key"), 1), ("number", True), ("number", GREAT + 1), None, 1, "end", ["own", "end"], (), ("own",),
+    ("name", "a"), ("field", "r", "end"), ("own", "price"), ("own", "r"), ("plus", ("name", "a"), 1),
+    ("plus", ("own", "a"), 1),
+    ("plus", ("field", "r", "key"), 1), ("number", True), ("number", GREAT + 1), None, 1, "end", ["own", "end"], (),
+    ("own",),
 )
 WRONG_ROW_RULES = tuple(("below", KEY, wrong) for wrong in WRONG_VALUES) + tuple(
     ("not", ("and", YES, ("same", wrong, KEY))) for wrong in WRONG_VALUES) + (
-    ("found", "r"), ("not", ("found", "r")), ("or", YES, ("and", ("found", "end"), YES)), None, True, False, 0, 1, "", "true", (), [],
-    ["true"], [("true",)], ("maybe",), ("and", YES), ("not", ("not", ("not", ("not", ("not", ("not", YES)))))), (YES, YES))
+    ("found", "r"), ("not", ("found", "r")), ("or", YES, ("and", ("found", "end"), YES)), None, True, False, 0, 1, "",
+    "true", (), [],
+    ["true"], [("true",)], ("maybe",), ("and", YES), ("not", ("not", ("not", ("not", ("not", ("not", YES)))))),
+    (YES, YES))
 NEXT_VALUES = (NEXT_KEY, NEXT_END, ("plus", NEXT_END, 1))
 WRONG_NEXT_VALUES = (("next", "price"), ("plus", ("next", "a"), 1), ("next",), ["next", "end"])
 
@@ -45,8 +50,10 @@ class TestColumns(unittest.TestCase):
 
     def test_columns_are_checked_first_by_all(self):
         for columns in WRONG_COLUMNS:
-            for make in (lambda: Table(columns, None), lambda: Table(columns, [None]), lambda: Procedure(columns, None, None),
-                         lambda: Procedure(columns, ["a"], [None]), lambda: Rules(columns), lambda: Rules(columns, rows=None),
+            for make in (lambda: Table(columns, None), lambda: Table(columns, [None]),
+                         lambda: Procedure(columns, None, None),
+                         lambda: Procedure(columns, ["a"], [None]), lambda: Rules(columns),
+                         lambda: Rules(columns, rows=None),
                          lambda: Rules(columns, rows=[None], nexts=5), lambda: Rules(columns, nexts=[YES] * 5)):
                 with self.assertRaises(InvalidColumns) as caught:
                     make()
@@ -140,10 +147,13 @@ class TestMaking(unittest.TestCase):
         self.assertTrue(one == Rules(("end",), rows=list(ROW_RULES[:2]), nexts=list(NEXT_RULES[:2])))
         self.assertFalse(one != Rules(("end",), rows=list(ROW_RULES[:2]), nexts=list(NEXT_RULES[:2])))
         for other in (
-            Rules(["end"], rows=ROW_RULES[1::-1], nexts=NEXT_RULES[:2]), Rules(["end"], rows=ROW_RULES[:2], nexts=NEXT_RULES[1::-1]),
+            Rules(["end"], rows=ROW_RULES[1::-1], nexts=NEXT_RULES[:2]),
+            Rules(["end"], rows=ROW_RULES[:2], nexts=NEXT_RULES[1::-1]),
             Rules(["end"], rows=ROW_RULES[:2]), Rules(["end"], rows=ROW_RULES[:1], nexts=NEXT_RULES[:2]),
-            Rules(["end"], rows=ROW_RULES[:3], nexts=NEXT_RULES[:2]), Rules(["end", "a"], rows=ROW_RULES[:2], nexts=NEXT_RULES[:2]),
-            Rules(["a", "end"], rows=ROW_RULES[:2], nexts=NEXT_RULES[:2]), Rules(["end"]), None, 4, "", list(ROW_RULES[:2]),
+            Rules(["end"], rows=ROW_RULES[:3], nexts=NEXT_RULES[:2]),
+            Rules(["end", "a"], rows=ROW_RULES[:2], nexts=NEXT_RULES[:2]),
+            Rules(["a", "end"], rows=ROW_RULES[:2], nexts=NEXT_RULES[:2]), Rules(["end"]), None, 4, "",
+            list(ROW_RULES[:2]),
         ):
             self.assertFalse(one == other)
             self.assertTrue(one != other)
@@ -158,7 +168,8 @@ class TestKeeping(unittest.TestCase):
         rules = Rules(["end"], rows=[ROW_RULES[0]], nexts=[NEXT_RULES[0]])
         for rows, broken in (
             ([], None), ([(1, 2)], None), ([(1, 1)], (0, 0)), ([(1, 3), (3, 4)], None), ([(1, 3), (2, 4)], (1, 0)),
-            ([(1, 2), (2, 2), (3, 1)], (0, 1)), ([(1, 2), (2, 5), (3, 4), (3 + 1, 5)], (1, 1)), ([(1, 9), (2, 2)], (0, 1)),
+            ([(1, 2), (2, 2), (3, 1)], (0, 1)), ([(1, 2), (2, 5), (3, 4), (3 + 1, 5)], (1, 1)),
+            ([(1, 9), (2, 2)], (0, 1)),
             ([(GREAT ** 2, GREAT ** 2 + 1)], None), ([(GREAT ** 2, GREAT ** 2)], (0, 0)),
         ):
             table = Table(["end"], rows)
@@ -218,7 +229,7 @@ class TestKeeping(unittest.TestCase):
 class TestCarrying(unittest.TestCase):
 
     def check(self, columns, rows, nexts):
-        """Makes rules; checks the witness, if they are refused, or all three rows of a grid; whether they are let in."""
+        """Whether rules are let in; the witness, if they are refused, or else all three rows of a grid are checked."""
         all_columns = ("key", *columns)
         try:
             Rules(columns, rows=rows, nexts=nexts)
@@ -241,14 +252,17 @@ class TestCarrying(unittest.TestCase):
     def test_by_hand(self):
         below = ("below", KEY, END)
         for rows, nexts, carried in (
-            ([], [("atmost", END, NEXT_END)], True), ([], [("same", END, NEXT_END)], True), ([], [("below", NEXT_END, END)], True),
+            ([], [("atmost", END, NEXT_END)], True), ([], [("same", END, NEXT_END)], True),
+            ([], [("below", NEXT_END, END)], True),
             ([], [("not", ("same", END, NEXT_END))], False), ([], [("below", END, ("plus", NEXT_END, 1))], True),
             ([], [("below", END, ("plus", NEXT_END, 2))], False), ([], [("atmost", ("plus", END, 5), NEXT_END)], True),
             ([], [("atmost", NEXT_KEY, ("plus", KEY, 3))], False), ([], [("atmost", ("plus", KEY, 2), NEXT_KEY)], True),
-            ([], [("below", NEXT_KEY, KEY)], True), ([], [("below", KEY, NEXT_KEY)], True), ([], [YES, YES, YES, YES], True),
+            ([], [("below", NEXT_KEY, KEY)], True), ([], [("below", KEY, NEXT_KEY)], True),
+            ([], [YES, YES, YES, YES], True),
             ([below], [("atmost", END, NEXT_KEY)], True), ([], [("atmost", END, NEXT_KEY)], True), ([], [SLOW], False),
             ([("atmost", ONE, END)], [SLOW], True), ([("atmost", ("number", 0), END)], [SLOW], False),
-            ([("same", KEY, END)], [("atmost", NEXT_END, KEY)], True), ([("not", YES)], [("not", ("same", END, NEXT_END))], True),
+            ([("same", KEY, END)], [("atmost", NEXT_END, KEY)], True),
+            ([("not", YES)], [("not", ("same", END, NEXT_END))], True),
             ([], [("or", ("below", END, NEXT_END), ("same", END, NEXT_END))], True),
             ([], [("or", ("below", END, NEXT_END), ("same", NEXT_END, ONE))], False),
             ([], [("or", ("below", END, NEXT_END), ("same", END, ONE))], False),
@@ -267,8 +281,10 @@ class TestCarrying(unittest.TestCase):
 
     def test_without_further_columns(self):
         for nexts, carried in (([("below", KEY, NEXT_KEY)], True), ([("atmost", NEXT_KEY, ("plus", KEY, 1))], False),
-                               ([("not", ("same", NEXT_KEY, ("plus", KEY, 2)))], False), ([("not", ("same", NEXT_KEY, KEY))], True),
-                               ([("atmost", NEXT_KEY, ONE)], True), ([("atmost", ONE, KEY)], True), ([("below", ONE, ("number", 0))], True)):
+                               ([("not", ("same", NEXT_KEY, ("plus", KEY, 2)))], False),
+                               ([("not", ("same", NEXT_KEY, KEY))], True),
+                               ([("atmost", NEXT_KEY, ONE)], True), ([("atmost", ONE, KEY)], True),
+                               ([("below", ONE, ("number", 0))], True)):
             self.assertIs(self.check([], [], nexts), carried, nexts)
 
     def test_lexicographic_order(self):

@@ -74,7 +74,8 @@ class TestFind(Runs):
 
     def test_ranges(self):
         for low, high, least, most in (
-            (None, None, 1, 8), (3, None, 3, 8), (4, None, 6, 8), (None, 8, 1, 6), (None, 7, 1, 6), (3, 6, 3, 3), (3, 7, 3, 6),
+            (None, None, 1, 8), (3, None, 3, 8), (4, None, 6, 8), (None, 8, 1, 6), (None, 7, 1, 6), (3, 6, 3, 3),
+            (3, 7, 3, 6),
             (6, 6, None, None), (6, 3, None, None), (9, None, None, None), (None, 1, None, None), (8, None, 8, 8),
             (None, 2, 1, 1), (-GREAT, GREAT, 1, 8), (2, 3, None, None), (4, 6, None, None),
         ):
@@ -130,7 +131,8 @@ class TestStep(Runs):
             self.fails([find("s", 3), ("clear", ALL, YES), ("step", "r", way, "s")], "gone")
 
     def test_over_new_and_deleted_rows(self):
-        self.returns([find("s", 3), ("insert", "n", [("number", 4), ONE]), ("step", "r", "next", "s"), ("step", "t", "next", "r"),
+        self.returns([find("s", 3), ("insert", "n", [("number", 4), ONE]), ("step", "r", "next", "s"),
+                      ("step", "t", "next", "r"),
                       told(field("r"), field("t"))], [4, 6], [(1, 5), (3, 3), (4, 1), (6, 0), (8, 5)])
         self.returns([find("s", 3), find("d", 6), ("delete", "d"), ("step", "r", "next", "s"), told(field("r"))],
                      [8], [(1, 5), (3, 3), (8, 5)])
@@ -141,7 +143,8 @@ class TestInsertDeleteSet(Runs):
     def test_insert(self):
         for key in (-GREAT, 0, 2, 4, 7, 9, GREAT):
             rows = sorted([*ROWS, (key, 7)])
-            self.returns([("insert", "r", [A, ("number", 7)]), told(field("r"), field("r", "end"))], [key, 7], rows, (key,))
+            self.returns([("insert", "r", [A, ("number", 7)]), told(field("r"), field("r", "end"))], [key, 7], rows,
+                         (key,))
         for key in (1, 3, 6, 8):
             self.fails([("insert", "r", [A, ("number", 7)])], "taken", (key,))
         self.check([("insert", "r", [A, B])], ("returned", []), [(5, 6)], (5, 6), before=[])
@@ -167,9 +170,12 @@ class TestInsertDeleteSet(Runs):
         self.returns([find("r", 3), ("clear", ALL, YES), tell], [1], [])
 
     def test_set(self):
-        self.returns([find("r", 3), ("set", "r", "end", A), told(field("r", "end"))], [9], [(1, 5), (3, 9), (6, 0), (8, 5)], (9,))
-        self.returns([find("r", 3), ("set", "r", "end", ("plus", field("r", "end"), 4))], [], [(1, 5), (3, 7), (6, 0), (8, 5)])
-        self.returns([find("r", 3), find("s", 8), ("set", "r", "end", field("s"))], [], [(1, 5), (3, 8), (6, 0), (8, 5)])
+        self.returns([find("r", 3), ("set", "r", "end", A), told(field("r", "end"))], [9],
+                     [(1, 5), (3, 9), (6, 0), (8, 5)], (9,))
+        self.returns([find("r", 3), ("set", "r", "end", ("plus", field("r", "end"), 4))], [],
+                     [(1, 5), (3, 7), (6, 0), (8, 5)])
+        self.returns([find("r", 3), find("s", 8), ("set", "r", "end", field("s"))], [],
+                     [(1, 5), (3, 8), (6, 0), (8, 5)])
         self.fails([("set", "r", "end", ONE)], "none")
         self.fails([find("r", 3), ("delete", "r"), ("set", "r", "end", ONE)], "gone")
 
@@ -204,9 +210,11 @@ class TestClearChangeMove(Runs):
         self.returns([("change", ALL, YES, "end", A)], [], [(1, 4), (3, 4), (6, 4), (8, 4)], (4,))
         self.returns([("change", (TWO, None), ("below", END, KEY), "end", ("plus", KEY, 100))], [],
                      [(1, 5), (3, 3), (6, 106), (8, 108)])
-        self.returns([("change", (None, ("number", 8)), YES, "end", ("plus", END, -1))], [], [(1, 4), (3, 2), (6, -1), (8, 5)])
+        self.returns([("change", (None, ("number", 8)), YES, "end", ("plus", END, -1))], [],
+                     [(1, 4), (3, 2), (6, -1), (8, 5)])
         # Fields of a row that is changed itself are those before the change.
-        self.returns([find("r", 3), ("change", ALL, ("atmost", field("r", "end"), END), "end", ("plus", field("r", "end"), 4)),
+        self.returns([find("r", 3), ("change", ALL, ("atmost", field("r", "end"), END), "end",
+                                     ("plus", field("r", "end"), 4)),
                       told(field("r", "end"))], [7], [(1, 7), (3, 7), (6, 0), (8, 7)])
         self.returns([("change", (A, B), YES, "end", ONE)], [], None, (4, 6))
         self.check([("change", ALL, YES, "end", field("q"))], ("failed", "none"), [], before=[])
@@ -214,8 +222,10 @@ class TestClearChangeMove(Runs):
     def test_move_forward_and_back(self):
         for key, k, keys in (
             (0, 5, [6, 8, 11, 13]), (0, -5, [-4, -2, 1, 3]), (1, -100, [-99, -97, -94, -92]), (2, 1, [1, 4, 7, 9]),
-            (2, -1, [1, 2, 5, 7]), (3, -1, [1, 2, 5, 7]), (4, -2, [1, 3, 4, 6]), (7, -1, [1, 3, 6, 7]), (8, GREAT, [1, 3, 6, GREAT + 8]),
-            (9, -50, [1, 3, 6, 8]), (9, 50, [1, 3, 6, 8]), (6, 0, [1, 3, 6, 8]), (2, -2, None), (3, -2, None), (3, -9, None),
+            (2, -1, [1, 2, 5, 7]), (3, -1, [1, 2, 5, 7]), (4, -2, [1, 3, 4, 6]), (7, -1, [1, 3, 6, 7]),
+            (8, GREAT, [1, 3, 6, GREAT + 8]),
+            (9, -50, [1, 3, 6, 8]), (9, 50, [1, 3, 6, 8]), (6, 0, [1, 3, 6, 8]), (2, -2, None), (3, -2, None),
+            (3, -9, None),
             (4, -3, None), (5, -3, None), (6, -4, None), (8, -2, None), (7, -2, None),
         ):
             statements = [("move", A, k)]
@@ -235,14 +245,16 @@ class TestClearChangeMove(Runs):
                      [16, 1, 0], [(1, 5), (13, 3), (16, 0), (18, 5)])
         self.returns([find("r", 6), ("move", field("r"), 1), ("move", field("r"), 1), ("step", "p", "prior", "r"),
                       told(field("r"), field("p"))], [8, 3], [(1, 5), (3, 3), (8, 0), (10, 5)])
-        self.returns([find("r", 6), ("set", "r", "end", TWO), ("change", ALL, YES, "end", ("plus", END, 1)), ("move", ONE, 1),
+        self.returns([find("r", 6), ("set", "r", "end", TWO), ("change", ALL, YES, "end", ("plus", END, 1)),
+                      ("move", ONE, 1),
                       told(field("r", "end"), field("r"))], [3, 7], [(2, 6), (4, 4), (7, 3), (9, 6)])
 
 
 class TestIfFailReturn(Runs):
 
     def test_if(self):
-        branch = ("if", ("below", A, B), [("insert", "r", (TWO, TWO)), told(A)], [find("r", 3), ("delete", "r"), told(B)])
+        branch = ("if", ("below", A, B), [("insert", "r", (TWO, TWO)), told(A)],
+                  [find("r", 3), ("delete", "r"), told(B)])
         self.returns([branch], [4], [(1, 5), (2, 2), (3, 3), (6, 0), (8, 5)], (4, 5))
         self.returns([branch], [5], [(1, 5), (6, 0), (8, 5)], (5, 5))
         self.returns([("if", YES, [], [("fail", "x")]), told(ONE)], [1])
@@ -257,7 +269,8 @@ class TestIfFailReturn(Runs):
         for form, numbers, holds in (
             ("atmost", (1, 2), True), ("atmost", (2, 2), True), ("atmost", (3, 2), False), ("below", (1, 2), True),
             ("below", (2, 2), False), ("below", (3, 2), False), ("same", (1, 2), False), ("same", (2, 2), True),
-            ("same", (3, 2), False), ("same", (GREAT ** 2, GREAT ** 2), True), ("below", (GREAT ** 2, GREAT ** 2 + 1), True),
+            ("same", (3, 2), False), ("same", (GREAT ** 2, GREAT ** 2), True),
+            ("below", (GREAT ** 2, GREAT ** 2 + 1), True),
         ):
             self.returns([("if", (form, A, B), [told(ONE)], [told(TWO)])], [1 if holds else 2], None, numbers)
             shifted = (form, ("plus", A, 5), ("plus", B, 5))
@@ -297,11 +310,13 @@ class TestIfFailReturn(Runs):
             v, w = pair
             for statement in (
                 ("find", "r", "first", (v, w), YES), ("find", "r", "first", (v, None), ("same", w, KEY)),
-                ("find", "r", "last", (None, v), ("same", w, KEY)), ("find", "r", "last", ALL, ("and", ("same", v, KEY), ("same", w, w))),
+                ("find", "r", "last", (None, v), ("same", w, KEY)),
+                ("find", "r", "last", ALL, ("and", ("same", v, KEY), ("same", w, w))),
                 ("find", "r", "last", ALL, ("same", v, w)), ("insert", "r", [v, w]), ("clear", (v, w), YES),
                 ("clear", (None, v), ("not", ("same", w, KEY))), ("clear", ALL, ("or", YES, ("below", v, w))),
                 ("change", (v, w), YES, "end", ONE), ("change", (v, None), ("same", w, w), "end", ONE),
-                ("change", (None, v), YES, "end", w), ("change", ALL, ("same", v, KEY), "end", w), told(v, w), told(ONE, v, w),
+                ("change", (None, v), YES, "end", w), ("change", ALL, ("same", v, KEY), "end", w), told(v, w),
+                told(ONE, v, w),
                 ("change", ALL, ("same", KEY, ("plus", v, 2)), "end", ("plus", w, 1)),
             ):
                 self.fails([*gone, statement], word)
@@ -315,8 +330,10 @@ class TestIfFailReturn(Runs):
             self.fails([("insert", "r", (TWO, TWO)), ("if", YES, [("fail", word)], []), told(ONE)], word)
 
     def test_a_failed_run_leaves_the_table(self):
-        change = [("clear", (TWO, None), YES), ("insert", "r", (TWO, TWO)), ("change", ALL, YES, "end", ("number", 9)), ("move", ONE, 7)]
-        for last, word in ((("fail", "x"), "x"), (("delete", "q"), "none"), (told(field("q")), "none"), (("insert", "r", (("number", 8), ONE)), "taken")):
+        change = [("clear", (TWO, None), YES), ("insert", "r", (TWO, TWO)), ("change", ALL, YES, "end", ("number", 9)),
+                  ("move", ONE, 7)]
+        for last, word in ((("fail", "x"), "x"), (("delete", "q"), "none"), (told(field("q")), "none"),
+                           (("insert", "r", (("number", 8), ONE)), "taken")):
             self.fails([*change, last], word)
             self.fails([("if", YES, [*change, last], [])], word)
 
@@ -328,7 +345,8 @@ class TestIfFailReturn(Runs):
     def test_great_integers(self):
         self.check([("insert", "r", (A, ("plus", B, GREAT))), ("move", A, GREAT), told(field("r"), field("r", "end"))],
                    ("returned", [GREAT ** 3 + GREAT, -GREAT ** 4 + GREAT]),
-                   [(GREAT ** 2, 0), (GREAT ** 3 + GREAT, -GREAT ** 4 + GREAT)], (GREAT ** 3, -GREAT ** 4), before=[(GREAT ** 2, 0)])
+                   [(GREAT ** 2, 0), (GREAT ** 3 + GREAT, -GREAT ** 4 + GREAT)], (GREAT ** 3, -GREAT ** 4),
+                   before=[(GREAT ** 2, 0)])
 
 
 class TestCalls(unittest.TestCase):
@@ -352,7 +370,8 @@ class TestCalls(unittest.TestCase):
         self.assertRaises(ColumnsDiffer, run, swapped, Table(["b", "a"]))
 
     def test_invalid_arguments(self):
-        for numbers in ((), (1,), (1, 2, 3), (True, 2), (2, False), (None, 2), (2, None), ("2", 4), (2, ""), ((2,), 4), (2, [4]), ([2, 4],)):
+        for numbers in ((), (1,), (1, 2, 3), (True, 2), (2, False), (None, 2), (2, None), ("2", 4), (2, ""), ((2,), 4),
+                        (2, [4]), ([2, 4],)):
             for call in self.calls(self.procedure, self.table, *numbers):
                 with self.assertRaises(InvalidArguments) as caught:
                     call()
@@ -377,7 +396,8 @@ class TestCalls(unittest.TestCase):
 
     def test_other_columns(self):
         procedure = Procedure(["x", "y", "z"], ["c"], [
-            ("find", "r", "last", ALL, ("below", ("own", "z"), ("own", "x"))), ("set", "r", "y", ("plus", ("name", "c"), 1)),
+            ("find", "r", "last", ALL, ("below", ("own", "z"), ("own", "x"))),
+            ("set", "r", "y", ("plus", ("name", "c"), 1)),
             ("change", ALL, YES, "z", ("own", "y")), told(field("r", "z"), field("r", "x"))])
         table = Table(["x", "y", "z"], [(4, 1, 2, 0), (1, 5, 6, 4), (9, 0, 3, 0)])
         self.assertEqual(run(procedure, table, 7)[0], ("returned", [8, 1]))
@@ -393,7 +413,8 @@ class TestWalk(unittest.TestCase):
         return [table.rows() for table in walk(procedure, Table(["end"], ROWS[:2]), *numbers)]
 
     def test_statement_by_statement(self):
-        statements = [find("r", 3), ("insert", "s", (A, ONE)), ("delete", "r"), ("if", YES, [("move", TWO, 5), ("clear", (None, TWO), YES)], [])]
+        statements = [find("r", 3), ("insert", "s", (A, ONE)), ("delete", "r"),
+                      ("if", YES, [("move", TWO, 5), ("clear", (None, TWO), YES)], [])]
         self.assertEqual(self.tables(statements, 2), [
             [(1, 5), (3, 3)], [(1, 5), (3, 3)], [(1, 5), (2, 1), (3, 3)], [(1, 5), (2, 1)], [(7, 1)]])
         self.assertEqual(self.tables([]), [[(1, 5), (3, 3)]])
@@ -428,7 +449,8 @@ class TestAgainstTheModel(unittest.TestCase):
         seen = {}
         for seed in range(6000):
             dice = random.Random(seed)
-            maker = Maker(dice, columns=dice.choice([(), ("end",), ("end",), ("x", "y")]), arguments=("a", "b")[:dice.randint(0, 2)])
+            maker = Maker(dice, columns=dice.choice([(), ("end",), ("end",), ("x", "y")]),
+                          arguments=("a", "b")[:dice.randint(0, 2)])
             statements = maker.finds()[:dice.randint(0, 9)] + maker.body(dice.randint(1, 5))
             rows = maker.rows(dice.randint(0, 5))
             numbers = [dice.randint(-1, 6) for _ in maker.arguments]
@@ -437,7 +459,8 @@ class TestAgainstTheModel(unittest.TestCase):
             ending, model, tables = modelled(maker.columns, maker.arguments, statements, rows, numbers)
             ended, behind = run(procedure, table, *numbers)
             self.assertEqual(ended, ending, (statements, rows, numbers))
-            self.assertEqual(behind.rows(), rows if ending[0] == "failed" else model.table(), (statements, rows, numbers))
+            self.assertEqual(behind.rows(), rows if ending[0] == "failed" else model.table(),
+                             (statements, rows, numbers))
             self.assertEqual([each.rows() for each in walk(procedure, table, *numbers)], tables)
             self.assertEqual(table.rows(), rows)
             word = ending[1] if ending[0] == "failed" else len(ending[1])

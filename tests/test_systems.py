@@ -11,7 +11,8 @@ from lookedrows.systems import System
 RIGHT_UNKNOWNS = ("", "a", "zzzzzz", "price", "0.key", "0.end", "7.key", "10.a", "123456789012345678901234567890.key")
 WRONG_UNKNOWNS = (
     "key", "own", "A", "sevenll", "a1", "a b", " a", "a\n", "0", "1", ".", ".key", "0.", "00.key", "01.key", "007.end",
-    "-1.key", "+1.key", " 1.key", "1 .key", "1.Key", "1.own", "1.next", "1.sevenll", "1.key.key", "1..key", "1.", "a.key",
+    "-1.key", "+1.key", " 1.key", "1 .key", "1.Key", "1.own", "1.next", "1.sevenll", "1.key.key", "1..key", "1.",
+    "a.key",
     "1.key ", "1.0", "1.key\n", "1_0.key", "1e.key", "own.key", "x.0", "0x1.key", "0,key",
 )
 WRONG_COMPARISONS = tuple(("a", wrong, 0) for wrong in WRONG_UNKNOWNS) + tuple(
@@ -19,7 +20,8 @@ WRONG_COMPARISONS = tuple(("a", wrong, 0) for wrong in WRONG_UNKNOWNS) + tuple(
     (wrong, "a", 1) for wrong in (True, False, None, 0, 1, (), [], ("a",), ["a"], [""])) + tuple(
     ("a", wrong, 1) for wrong in (True, False, None, 0, 1, (), [], ("a",), ["a"], [""])) + tuple(
     ("a", "b", wrong) for wrong in (True, False, None, "", "1", "a", (), (1,), [1])) + (
-    ["a", "b", 1], ("a", "b"), ("a", "b", 1, 1), (), ("a",), "a", "", "ab1", 1, 0, None, True, False, [], [("a", "b", 1)],
+    ["a", "b", 1], ("a", "b"), ("a", "b", 1, 1), (), ("a",), "a", "", "ab1", 1, 0, None, True, False, [],
+    [("a", "b", 1)],
     (("a", "b", 1),), ("a", 1, "b"), (1, "a", "b"))
 GREAT = 10 ** 30
 

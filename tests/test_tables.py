@@ -16,7 +16,8 @@ WRONG_COLUMNS = (
 )
 # No rows of a table with one further column.
 WRONG_ROWS = (
-    None, True, False, 0, "", "ab", (), (1,), (1, 2, 3), [9, 2], [], (1, True), (False, 2), (1, None), (None, 2), (1, "2"),
+    None, True, False, 0, "", "ab", (), (1,), (1, 2, 3), [9, 2], [], (1, True), (False, 2), (1, None), (None, 2),
+    (1, "2"),
     ("1", 2), (1, (2,)), ((1,), 2), (1, [2]), ((1, 2),), [(1, 2)],
 )
 
@@ -162,8 +163,10 @@ class TestAsking(unittest.TestCase):
         self.assertTrue(self.table == Table(("end", "price"), rows[::-1]))
         self.assertFalse(self.table != Table(("end", "price"), rows[::-1]))
         for other in (Table(["price", "end"], rows), Table(["end", "prices"], rows), Table(["end", "price"], rows[1:]),
-                      Table(["end", "price"], [*rows, (0, 0, 0)]), Table(["end", "price"], [(5, 7, 1), *rows[:1], rows[2]]),
-                      Table(["end", "price"], [(6, 7, 0), *rows[:1], rows[2]]), None, 3, "Table(3 rows)", rows, tuple(rows)):
+                      Table(["end", "price"], [*rows, (0, 0, 0)]),
+                      Table(["end", "price"], [(5, 7, 1), *rows[:1], rows[2]]),
+                      Table(["end", "price"], [(6, 7, 0), *rows[:1], rows[2]]), None, 3, "Table(3 rows)", rows,
+                      tuple(rows)):
             self.assertFalse(self.table == other)
             self.assertTrue(self.table != other)
         self.assertFalse(Table([]) == Table(["end"]))
@@ -199,7 +202,8 @@ class TestAddingAndTakingAway(unittest.TestCase):
                 with self.assertRaises(InvalidRow) as caught:
                     self.table + [*good[:ahead], wrong, *good[ahead:]]
                 self.assertEqual(caught.exception.index, ahead)
-        for rows, index in (([(8, 1), (8, 1)], 1), ([(8, 1), (7, 2), (8, 3), (5, 7)], 2), ([(8, 1), (5, 7), (8, 1)], 1)):
+        for rows, index in (([(8, 1), (8, 1)], 1), ([(8, 1), (7, 2), (8, 3), (5, 7)], 2),
+                            ([(8, 1), (5, 7), (8, 1)], 1)):
             with self.assertRaises(InvalidRow) as caught:
                 self.table + rows
             self.assertEqual(caught.exception.index, index)

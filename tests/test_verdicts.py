@@ -101,7 +101,8 @@ class TestVerdicts(unittest.TestCase):
         for keys in itertools.combinations(range(4), many):
             for _ in range(20):
                 table = Table(["end"], [(key, dice.randint(-1, 4)) for key in keys])
-                known = {f"{at}.{column}": cell for at, row in enumerate(table.rows()) for column, cell in zip(table.columns, row)}
+                known = {f"{at}.{column}": cell for at, row in enumerate(table.rows()) for column,
+                         cell in zip(table.columns, row)}
                 self.assertEqual(sum(known in system for system in systems), rules.keeps(table))
 
     def test_wrong_counts(self):
