@@ -172,8 +172,8 @@ class System:
     def __eq__(self, other):
         return isinstance(other, System) and self.within(other) and other.within(self)
 
-    def __contains__(self, numbers):
-        known = {**numbers, "": 0}
+    def __contains__(self, x):
+        known = {**x, "": 0}
         if not all([unknown in known for unknown in self.unknowns()]):
             return False
         return all([known[left] <= known[right] + k for left, right, k in self._comparisons])

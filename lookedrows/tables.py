@@ -53,15 +53,15 @@ class Table:
                 return row
         raise UnknownKey(key)
 
-    def __add__(self, rows):
-        further = _checked_rows(rows, len(self._columns), self.all_keys())
+    def __add__(self, other):
+        further = _checked_rows(other, len(self._columns), self.all_keys())
         return Table(self._columns[1:], [*self._rows, *further])
 
-    def __sub__(self, keys):
-        return Table(self._columns[1:], [row for row in self._rows if row[0] not in keys])
+    def __sub__(self, other):
+        return Table(self._columns[1:], [row for row in self._rows if row[0] not in other])
 
-    def __contains__(self, row):
-        return _is_row(row, len(self._columns)) and row in self._rows
+    def __contains__(self, x):
+        return _is_row(x, len(self._columns)) and x in self._rows
 
     def __len__(self):
         return len(self._rows)

@@ -263,6 +263,13 @@ class TestOn(unittest.TestCase):
         self.assertEqual(system.on(unknowns=["c"]), System([("c", "", 5), ("", "c", -3)]))
         self.assertEqual(len(system.comparisons()), 4)
 
+    def test_comparisons_in_a_fixed_order(self):
+        system = System([(left, right, 1) for left, right in itertools.permutations(["c", "a", "", "b", "0.key"], 2)])
+        sides = sorted(["", "0.key", "a", "b", "c"])
+        for chosen in itertools.permutations(["a", "b", "c", "0.key"]):
+            expected = [(left, right, 1) for left, right in itertools.permutations(sides, 2)]
+            self.assertEqual(system.on(chosen).comparisons(), expected)
+
     def test_great_integers(self):
         rows = [("a", "b", GREAT), ("b", "c", GREAT), ("c", "", -GREAT ** 2)]
         self.assertEqual(System(rows).on(["a"]), System([("a", "", 2 * GREAT - GREAT ** 2)]))
