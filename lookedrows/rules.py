@@ -128,7 +128,7 @@ class Rules:
         return Rules(self._columns[1:], rows=rows, nexts=nexts)
 
     def __len__(self):
-        return len(self._rows) + len(self._nexts)
+        return len([*self._rows, *self._nexts])
 
     def __eq__(self, other):
         if not isinstance(other, Rules) or self._columns != other._columns:

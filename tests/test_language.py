@@ -91,6 +91,13 @@ def generators():
             if any(isinstance(part, (ast.Yield, ast.YieldFrom)) for part in ast.walk(node))}
 
 
+def is_plain_length(value):
+    """Whether what a __len__ returns is one `len(..)` or a literal number."""
+    if isinstance(value, ast.Constant):
+        return type(value.value) is int
+    return isinstance(value, ast.Call) and isinstance(value.func, ast.Name) and value.func.id == "len"
+
+
 class TestLanguage(unittest.TestCase):
 
     def test_there_are_files(self):
@@ -201,6 +208,22 @@ class TestLanguage(unittest.TestCase):
                     self.assertIsInstance(method.body[-1], ast.Return)
                     for part in ast.walk(method):
                         self.assertNotIsInstance(part, (ast.Assign, ast.AugAssign))
+
+    def test_what_len_returns(self):
+        seen = 0
+        for node in classes():
+            for method in methods_of(node):
+                if method.name == "__len__":
+                    for part in ast.walk(method):
+                        if isinstance(part, ast.Return):
+                            seen += 1
+                            self.assertTrue(is_plain_length(part.value), (node.name, part.lineno))
+        self.assertGreaterEqual(seen, 4)
+
+    def test_what_a_plain_length_is(self):
+        for text, plain in (("len(rows)", True), ("7", True), ("len([*one, *other])", True), ("len(a) + len(b)", False),
+                            ("True", False), ("many", False), ("self.many()", False), ("-1", False)):
+            self.assertIs(is_plain_length(ast.parse(text).body[0].value), plain, text)
 
     def test_python_gives_no_warning(self):
         with warnings.catch_warnings():
