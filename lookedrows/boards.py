@@ -2,16 +2,36 @@
 
 A number on a board is a pair (unknown, k): the unknown and the integer k together; the empty unknown is 0. So the same
 run serves for one table of integers and for all tables of a kind. A judge tells which of two numbers is at most the
-other one.
+other one, and hears of each look at the rows.
+
+Each row on a board has a mark, which it keeps when it is changed or moved: the rows of the table have 0, 1 and so on,
+rows that are put in later have -1, -2 and so on.
 """
 
 
-class Plain:
-    """The judge of numbers that are all integers."""
+class Astray(Exception):
+    """What is looked for is not to be had on this way."""
+
+
+class Judge:
+    """The judge of numbers that are all integers. The looks are nothing to it."""
 
     def atmost(self, left, right):
         """Whether the first number is at most the second one."""
         return left[1] <= right[1]
+
+    def seeks(self, board, look):
+        """Hears that a look at the rows of a board begins."""
+
+    def tells(self, mark):
+        """Hears which row a look tells, or None."""
+
+    def passes(self):
+        """Hears that what must hold for the rows of a board does hold."""
+
+    def misses(self, many):
+        """Raises Astray(), for what must hold for the rows of a board does not; so many further rows might help."""
+        raise Astray()
 
 
 def plain_numbers(integers):
@@ -34,64 +54,73 @@ def moved(number, k):
     return (number[0], number[1] + k)
 
 
-class Line:
-    """A row on a board. It stays the same one when it is changed, moved or deleted."""
-
-    def __init__(self, cells):
-        self.cells = list(cells)
-        self.gone = False
-
-
 class Board:
-    """The rows of a table in the course of runs, in ascending order of their keys."""
+    """The marks of the rows, in ascending order of their keys, and the cells of each.
 
-    def __init__(self, cells, judge):
+    The two are never changed in themselves, so that boards may share them.
+    """
+
+    def __init__(self, order, cells, judge, made=0):
+        self.order = order
+        self.cells = cells
         self.judge = judge
-        self.lines = [Line(row) for row in cells]
+        self.made = made
+
+    def copied(self, judge):
+        """A board with the same rows and another judge."""
+        return Board(self.order, self.cells, judge, self.made)
+
+    def restore(self, other):
+        """Takes over the rows of another board."""
+        self.order = other.order
+        self.cells = other.cells
+        self.made = other.made
 
     def told(self):
         """The list of the rows, as tuples of numbers."""
-        return [tuple(line.cells) for line in self.lines]
+        return [self.cells[mark] for mark in self.order]
 
     def below(self, left, right):
         """Whether the first number is less than the second one."""
         return not self.judge.atmost(right, left)
 
-    def delete(self, line):
-        """Takes a row off the board."""
-        line.gone = True
-        self.lines = [other for other in self.lines if not other.gone]
+    def take_off(self, marks):
+        """Deletes the rows with some marks."""
+        gone = {mark: True for mark in marks}
+        self.order = tuple([mark for mark in self.order if mark not in gone])
+        self.cells = {mark: self.cells[mark] for mark in self.order}
 
     def put(self, cells):
-        """Puts a new row on the board and returns it, or None if there is a row with its key."""
-        at = self.first_from(cells[0])
-        if at < len(self.lines) and self.judge.atmost(self.lines[at].cells[0], cells[0]):
-            return None
-        line = Line(cells)
-        self.lines = [*self.lines[:at], line, *self.lines[at:]]
-        return line
+        """Puts in a new row, with a key that no row has, and tells its mark."""
+        at = self._first_from(cells[0])
+        self.made += 1
+        mark = -self.made
+        self.order = (*self.order[:at], mark, *self.order[at:])
+        self.cells = {**self.cells, mark: tuple(cells)}
+        return mark
 
-    def first_from(self, key):
+    def _first_from(self, key):
         """The index of the first row whose key is at least this one, or the number of rows."""
-        for at, line in enumerate(self.lines):
-            if self.judge.atmost(key, line.cells[0]):
+        for at, mark in enumerate(self.order):
+            if self.judge.atmost(key, self.cells[mark][0]):
                 return at
-        return len(self.lines)
+        return len(self.order)
+
+    def write(self, place, numbers):
+        """Changes the cell at a place of each row whose mark has a number."""
+        changed = {}
+        for mark, number in numbers.items():
+            row = self.cells[mark]
+            changed[mark] = (*row[:place], number, *row[place + 1:])
+        self.cells = {**self.cells, **changed}
 
     def move(self, key, k):
-        """Adds k to all keys from this one on, and returns True; returns False if they would not ascend any more."""
-        at = self.first_from(key)
-        if 0 < at < len(self.lines):
-            if not self.below(self.lines[at - 1].cells[0], moved(self.lines[at].cells[0], k)):
-                return False
-        for line in self.lines[at:]:
-            line.cells[0] = moved(line.cells[0], k)
-        return True
+        """Adds k to all keys from this one on."""
+        later = self.order[self._first_from(key):]
+        self.write(0, {mark: moved(self.cells[mark][0], k) for mark in later})
 
-    def beside(self, line, step):
-        """The row so many places behind a row on the board, or None."""
-        # A row counts as itself here, whatever its cells are.
-        for at, other in enumerate(self.lines):
-            if other == line:
-                return self.lines[at + step] if 0 <= at + step < len(self.lines) else None
-        return None
+
+def laid_out(rows):
+    """The pair of the order and the cells of a board with these rows."""
+    marks = list(range(len(rows)))
+    return tuple(marks), {mark: rows[mark] for mark in marks}

@@ -5,6 +5,8 @@ answers are possible: the run goes on with one of them, and another run, with th
 take the other one. So for all integers there is just one run that goes as it does with them.
 """
 
+from lookedrows.boards import Judge
+from lookedrows.bounds import follows, with_all, with_comparison
 from lookedrows.systems import turned
 
 
@@ -18,32 +20,10 @@ def ascending(many):
     return [(f"{place}.key", f"{place + 1}.key", -1) for place in range(many - 1)]
 
 
-def _with_comparison(bounds, comparison):
-    """The bounds together with a comparison, with which they are open.
+class Chooser(Judge):
+    """The judge of one run. It takes what follows, and else that a comparison holds."""
 
-    Bounds tell for each unknown, for each one that bounds it, the least k by which it does.
-    """
-    left, right, k = comparison
-    wider = {unknown: dict(bounds[unknown]) for unknown in bounds}
-    for unknown in (left, right):
-        if unknown not in wider:
-            wider[unknown] = {unknown: 0}
-    behind = list(wider[right].items())
-    for first in [unknown for unknown in wider if left in wider[unknown]]:
-        least = wider[first]
-        for second, further in behind:
-            way = least[left] + k + further
-            if second not in least or way < least[second]:
-                least[second] = way
-    return wider
-
-
-class Chooser:
-    """The judge of one run: it gives some answers again, and then takes the first possible one of each."""
-
-    def __init__(self, answers, bounds, comparisons):
-        self._answers = answers
-        self._asked = 0
+    def __init__(self, bounds, comparisons):
         self._bounds = bounds
         self._comparisons = comparisons
         self.others = []
@@ -52,33 +32,17 @@ class Chooser:
         """Whether the first number is at most the second one."""
         if left[0] == right[0]:
             return left[1] <= right[1]
-        if self._asked == len(self._answers):
-            # A new list, for the choosers of other runs share the one before.
-            self._answers = [*self._answers, self._answer((left[0], right[0], right[1] - left[1]))]
-        self._asked += 1
-        return self._answers[self._asked - 1]
-
-    def _answer(self, comparison):
-        """Whether a comparison holds; if both is possible, it does, and another chooser is kept for the contrary."""
+        comparison = (left[0], right[0], right[1] - left[1])
         contrary = turned(comparison)
-        if self._follows(comparison):
+        if follows(self._bounds, comparison):
             return True
-        if self._follows(contrary):
+        if follows(self._bounds, contrary):
             return False
-        self.others.append(self._choosing(False, contrary))
-        self._bounds = _with_comparison(self._bounds, comparison)
+        # Another run gives the same answers up to here, for they follow from the same bounds.
+        self.others.append((self._bounds, [*self._comparisons, contrary]))
+        self._bounds = with_comparison(self._bounds, comparison)
         self._comparisons = [*self._comparisons, comparison]
         return True
-
-    def _follows(self, comparison):
-        """Whether a comparison follows from those that are known."""
-        left, right, k = comparison
-        return left in self._bounds and right in self._bounds[left] and self._bounds[left][right] <= k
-
-    def _choosing(self, answer, comparison):
-        """The chooser of a run with the same answers, then this one, for which the comparison holds."""
-        bounds = _with_comparison(self._bounds, comparison)
-        return Chooser([*self._answers, answer], bounds, [*self._comparisons, comparison])
 
     def comparisons(self):
         """The list of the comparisons with which the run goes as it does."""
@@ -87,12 +51,11 @@ class Chooser:
 
 def branches(comparisons, play):
     """Yields the pairs (comparisons, what play tells) of all runs of play(judge) on what solves some comparisons."""
-    bounds = {}
-    for comparison in comparisons:
-        bounds = _with_comparison(bounds, comparison)
-    waiting = [Chooser([], bounds, list(comparisons))]
+    waiting = [(with_all({}, comparisons), list(comparisons))]
     while waiting:
-        chooser = waiting.pop()
+        bounds, known = waiting.pop()
+        # Only the last comparison may be missing in the bounds.
+        chooser = Chooser(with_all(bounds, known[-1:]), known)
         told = play(chooser)
         waiting.extend(chooser.others)
         yield chooser.comparisons(), told

@@ -1,10 +1,10 @@
 """Rules: what holds for each row of a table and for each two neighbouring rows."""
 
-from lookedrows.boards import Plain, plain_rows
+from lookedrows.boards import Board, Judge, plain_rows
 from lookedrows.choices import ascending, branches, cells_of
 from lookedrows.conditions import parts
 from lookedrows.errors import ColumnsDiffer, InvalidCount, InvalidRule, NotCarried
-from lookedrows.scenes import Scene
+from lookedrows.scenes import Scene, places_of
 from lookedrows.scopes import Scope
 from lookedrows.systems import System
 from lookedrows.values import all_columns, is_whole
@@ -29,6 +29,11 @@ def _is_rule(value, forms, layout):
     if not Scope(layout).has_condition(value, forms):
         return False
     return all([part[0] != "found" for _, part in parts(value)])
+
+
+def _scene_of(layout, judge):
+    """The scene of rules over these columns."""
+    return Scene(places_of(layout), Board((), {}, judge), {}, {})
 
 
 def _all_meet(scene, rules, own, behind):
@@ -58,7 +63,7 @@ def _witness(layout, rows, nexts):
     """A list of three rows that show that next rules do not carry, or None if they do."""
     cells = cells_of(layout, 3)
     start = ascending(3)
-    for comparisons, shown in branches(start, lambda judge: _shows(Scene(layout, judge, {}), rows, nexts, cells)):
+    for comparisons, shown in branches(start, lambda judge: _shows(_scene_of(layout, judge), rows, nexts, cells)):
         if shown:
             numbers = System(comparisons).example()
             # A cell that does not occur in the comparisons may have any integer.
@@ -97,7 +102,7 @@ class Rules:
 
     def first_broken(self, cells, judge):
         """As broken, for rows of numbers."""
-        scene = Scene(self._columns, judge, {})
+        scene = _scene_of(self._columns, judge)
         for index, rule in enumerate(self._rows):
             for place, own in enumerate(cells):
                 if not scene.meets(rule, own):
@@ -112,7 +117,7 @@ class Rules:
         """The pair of the indexes of the first rule that does not hold and its first row, or None; ColumnsDiffer()."""
         if table.columns != self._columns:
             raise ColumnsDiffer()
-        return self.first_broken(plain_rows(table.rows()), Plain())
+        return self.first_broken(plain_rows(table.rows()), Judge())
 
     def keeps(self, table):
         """Whether a table has these columns and all rules hold for it."""

@@ -1,8 +1,9 @@
 """Runs of procedures on tables."""
 
-from lookedrows.boards import Board, Plain, integers_of, plain_numbers, plain_rows
+from lookedrows.boards import Board, Judge, integers_of, laid_out, plain_numbers, plain_rows
 from lookedrows.errors import ColumnsDiffer, InvalidArguments
 from lookedrows.plays import Play, played
+from lookedrows.scenes import places_of
 from lookedrows.tables import Table
 from lookedrows.values import are_whole
 
@@ -23,7 +24,7 @@ def _table_of(table, cells):
 def run(procedure, table, *numbers):
     """The pair of the ending and the table behind a run; raises ColumnsDiffer(), InvalidArguments()."""
     _check(procedure, table, numbers)
-    ending, cells = played(procedure, plain_rows(table.rows()), plain_numbers(numbers), Plain())
+    ending, cells = played(procedure, plain_rows(table.rows()), plain_numbers(numbers), Judge())
     if ending[0] == "failed":
         return ending, table
     return ("returned", list(integers_of(ending[1]))), _table_of(table, cells)
@@ -32,8 +33,9 @@ def run(procedure, table, *numbers):
 def walk(procedure, table, *numbers):
     """Yields the tables ahead of the first statement and behind each one that is done; raises as run."""
     _check(procedure, table, numbers)
-    board = Board(plain_rows(table.rows()), Plain())
-    play = Play(procedure, board, plain_numbers(numbers))
+    order, cells = laid_out(plain_rows(table.rows()))
+    board = Board(order, cells, Judge())
+    play = Play(places_of(procedure.columns), board, dict(zip(procedure.arguments, plain_numbers(numbers))))
     yield table
     for statement in procedure.statements():
         if play.end is None:

@@ -10,44 +10,45 @@ class Broken(Exception):
         self.word = word
 
 
+def places_of(layout):
+    """The dict from the columns to their indexes."""
+    return {column: place for place, column in enumerate(layout)}
+
+
 class Scene:
-    """What values speak of: the arguments by name, and the found rows of a run by name."""
+    """What values speak of: the arguments by name, and the marks of the found rows by name."""
 
-    def __init__(self, layout, judge, given):
-        self._layout = {column: at for at, column in enumerate(layout)}
-        self._judge = judge
-        self._given = given
-        self.found = {}
+    def __init__(self, places, board, given, found):
+        self.places = places
+        self.board = board
+        self.given = given
+        self.found = found
 
-    def place(self, column):
-        """The index of a column."""
-        return self._layout[column]
-
-    def line(self, name):
-        """The found row with a name; raises Broken(word) if it is no row or was deleted."""
-        line = self.found.get(name)
-        if line is None:
+    def mark(self, name):
+        """The mark of the found row with a name; raises Broken(word) if it is no row or was deleted."""
+        mark = self.found.get(name)
+        if mark is None:
             raise Broken("none")
-        if line.gone:
+        if mark not in self.board.cells:
             raise Broken("gone")
-        return line
+        return mark
 
     def number(self, value, own=(), behind=()):
-        """The number of a value, where own and next columns are those of these rows; raises as line."""
+        """The number of a value, where own and next columns are those of these rows; raises as mark."""
         form = value[0]
         if form == "plus":
             return moved(self.number(value[1], own, behind), value[2])
         if form == "number":
             return ("", value[1])
         if form == "name":
-            return self._given[value[1]]
+            return self.given[value[1]]
         if form == "field":
-            return self.line(value[1]).cells[self.place(value[2])]
+            return self.board.cells[self.mark(value[1])][self.places[value[2]]]
         row = own if form == "own" else behind
-        return row[self.place(value[1])]
+        return row[self.places[value[1]]]
 
     def meets(self, condition, own=(), behind=()):
-        """Whether a condition holds, where own and next columns are those of these rows; raises as line."""
+        """Whether a condition holds, where own and next columns are those of these rows; raises as mark."""
         form = condition[0]
         if form == "true":
             return True
@@ -65,6 +66,7 @@ class Scene:
 
     def _compares(self, form, left, right):
         """Whether two numbers are as a comparison of this form tells."""
+        judge = self.board.judge
         if form == "below":
-            return not self._judge.atmost(right, left)
-        return self._judge.atmost(left, right) and (form == "atmost" or self._judge.atmost(right, left))
+            return not judge.atmost(right, left)
+        return judge.atmost(left, right) and (form == "atmost" or judge.atmost(right, left))

@@ -11,9 +11,9 @@ MOST_RETURNED = 4
 
 # What stands behind the first word of a statement, part by part.
 SHAPES = {
-    "find": ("row", "end", "range", "filter"),
-    "step": ("row", "side", "row"),
-    "insert": ("row", "cells"),
+    "find": ("new row", "end", "range", "filter"),
+    "step": ("new row", "side", "row"),
+    "insert": ("new row", "cells"),
     "delete": ("row",),
     "set": ("row", "column", "value"),
     "clear": ("range", "filter"),
@@ -31,6 +31,9 @@ READ_BY_ROW = ("number", "name", "field", "own")
 LOOKS = {"find": 1, "step": 1, "insert": 1, "move": 2}
 FAILING = ("fail", "insert", "move", "delete", "set", "step")
 CHANGING = ("insert", "delete", "set", "clear", "change", "move")
+# What these fail with, besides what reading a field fails with.
+OWN_WORDS = {"insert": ("taken",), "move": ("order",), "delete": ("none", "gone"), "set": ("none", "gone"),
+             "step": ("gone",)}
 
 
 def checked_statements(statements, scope):
@@ -139,10 +142,10 @@ def _are_statements(part, scope):
 
 
 CHECKS = {
-    "row": _is_row_name, "end": _is_end, "side": _is_side, "range": _is_range, "filter": _is_filter,
-    "condition": _is_condition, "cells": _are_cells, "values": _are_values, "column": _is_further_column,
-    "value": _is_value, "own value": _is_own_value, "integer": _is_integer, "statements": _are_statements,
-    "word": _is_row_name,
+    "row": _is_row_name, "new row": _is_row_name, "end": _is_end, "side": _is_side, "range": _is_range,
+    "filter": _is_filter, "condition": _is_condition, "cells": _are_cells, "values": _are_values,
+    "column": _is_further_column, "value": _is_value, "own value": _is_own_value, "integer": _is_integer,
+    "statements": _are_statements, "word": _is_row_name,
 }
 
 
@@ -170,8 +173,8 @@ def fields_in(values):
     return [single for single in singles if single[0] == "field"]
 
 
-def rows_named(statement):
-    """The list of the names of found rows in a statement and in those in it."""
+def rows_used(statement):
+    """The list of the names of found rows of which a statement, or one in it, reads something."""
     found = [field[1] for field in fields_in(values_of(statement))]
     for kind, part in zip(SHAPES[statement[0]], statement[1:]):
         if kind == "row":
@@ -180,8 +183,22 @@ def rows_named(statement):
             found.extend([test[1] for _, test in parts(part) if test[0] == "found"])
     for inner in inner_lists(statement):
         for each in inner:
-            found.extend(rows_named(each))
+            found.extend(rows_used(each))
     return found
+
+
+def rows_given(statement):
+    """The list of the names that a statement, or one in it, gives to rows."""
+    found = [part for kind, part in zip(SHAPES[statement[0]], statement[1:]) if kind == "new row"]
+    for inner in inner_lists(statement):
+        for each in inner:
+            found.extend(rows_given(each))
+    return found
+
+
+def rows_named(statement):
+    """The list of the names of found rows in a statement and in those in it."""
+    return rows_used(statement) + rows_given(statement)
 
 
 def looks_of(statements):
@@ -201,7 +218,7 @@ def late_index(statements):
             return index
         if any([late_index(inner) is not None for inner in inner_lists(statement)]):
             return index
-        changed = changed or _changes(statement)
+        changed = changed or has_any(statement, CHANGING)
     return None
 
 
@@ -212,8 +229,22 @@ def _may_fail(statement):
     return any([_may_fail(each) for inner in inner_lists(statement) for each in inner])
 
 
-def _changes(statement):
-    """Whether a statement, or one in it, changes the table."""
-    if statement[0] in CHANGING:
-        return True
-    return any([_changes(each) for inner in inner_lists(statement) for each in inner])
+def has_any(statement, words):
+    """Whether a statement, or one in it, begins with one of some words."""
+    return statement[0] in words or any([have_any(inner, words) for inner in inner_lists(statement)])
+
+
+def have_any(statements, words):
+    """Whether one of some statements, or one in them, begins with one of some words."""
+    return any([has_any(statement, words) for statement in statements])
+
+
+def words_of(statement):
+    """The list of the words with which a statement, or one in it, can fail on whatever table."""
+    found = [statement[1]] if statement[0] == "fail" else list(OWN_WORDS.get(statement[0], ()))
+    if fields_in(values_of(statement)):
+        found.extend(["none", "gone"])
+    for inner in inner_lists(statement):
+        for each in inner:
+            found.extend(words_of(each))
+    return found

@@ -50,6 +50,32 @@ raises InvalidStatement(path=(1, 3, 0))
 >>> rules = Rules(['end'], rows=[below], nexts=[atmost])
 >>> [rules.keeps(Table(['end'], [(1, 3), (3, 4)])), rules.broken(Table(['end'], [(1, 3), (2, 4)]))]
 [True, (1, 0)]
+
+>>> from lookedrows.procedures import Procedure
+>>> from lookedrows.questions import Keeps, Never
+>>> from lookedrows.rules import Rules
+>>> below, atmost = ('below', ('own', 'key'), ('own', 'end')), ('atmost', ('own', 'end'), ('next', 'key'))
+>>> rules = Rules(['end'], rows=[below], nexts=[atmost])
+>>> find = ('find', 'r', 'first', (None, ('name', 'b')), ('below', ('name', 'a'), ('own', 'end')))
+>>> put = ('if', ('found', 'r'), (('fail', 'busy'),), (('insert', 's', (('name', 'a'), ('name', 'b'))),))
+>>> test = ('if', ('below', ('name', 'a'), ('name', 'b')), (), (('fail', 'empty'),))
+>>> some = [Procedure(['end'], ['a', 'b'], [find, put]), Procedure(['end'], ['a', 'b'], [test, find, put])]
+>>> [Keeps(some[0]).ask(rules).holds, Keeps(some[1]).ask(rules).holds, Never(some[1], word='taken').ask(rules).holds]
+[False, True, True]
+
+>>> from lookedrows.meetings import Woven
+>>> from lookedrows.procedures import Procedure
+>>> statements = [('clear', (None, ('name', 'a')), ('true',)), ('insert', 'r', (('name', 'a'),))]
+>>> Woven(Procedure([], [], []), Procedure([], ['a'], statements))
+raises FailsLate(index=1)
+
+>>> from lookedrows.needs import spare
+>>> from lookedrows.procedures import Procedure
+>>> from lookedrows.rules import Rules
+>>> rows = [('clear', (('name', 'a'), None), ('true',)), ('clear', (('plus', ('name', 'a'), 1), None), ('true',))]
+>>> rows = [*rows, ('fail', 'no')]
+>>> [spare(Rules([]), Procedure([], ['a'], rows[:2])), spare(Rules([]), Procedure([], ['a'], rows))]
+[[1], [0, 1]]
 """
 
 
@@ -69,7 +95,7 @@ class TestExamples(unittest.TestCase):
 
     def test_examples(self):
         examples = EXAMPLES.strip().split("\n\n")
-        self.assertEqual(len(examples), 9)
+        self.assertEqual(len(examples), 12)
         for example in examples:
             lines = re.findall("^>>> (.*)$", example, re.MULTILINE)
             self.assertEqual(outcome(lines), example.split("\n")[-1])

@@ -44,7 +44,8 @@ BARRED_NAMES = re.compile(
     r"|gc|globals|help|id|locals|os|quit|type|vars|sys|license|copyright|credits|format|args|sort|encode|decode|hex")
 SPECIAL = re.compile(r"__(init|eq|repr|str|len|contains|add|sub|and|call|class|name)__")
 # What may go over a zip, a range and the like at once.
-AT_ONCE = {"list", "tuple", "dict", "sorted", "sum", "any", "all", "enumerate", "zip", "len", "reversed", "min", "max"}
+AT_ONCE = {"list", "tuple", "dict", "sorted", "sum", "any", "all", "enumerate", "zip", "len", "reversed", "min", "max",
+           "combinations"}
 
 
 def classes():
@@ -75,6 +76,11 @@ def stored_attributes():
     return {node.attr for _, node in nodes(ast.Attribute) if isinstance(node.ctx, ast.Store)}
 
 
+def class_values():
+    return {target.id for node in classes() for part in node.body if isinstance(part, ast.Assign)
+            for target in part.targets}
+
+
 def parents(tree):
     return {child: node for node in ast.walk(tree) for child in ast.iter_child_nodes(node)}
 
@@ -103,8 +109,8 @@ class TestLanguage(unittest.TestCase):
     def test_there_are_files(self):
         names = [file.name for file in FILES]
         for name in ("__init__.py", "errors.py", "values.py", "conditions.py", "systems.py", "tables.py",
-                     "procedures.py", "running.py",
-                     "rules.py", "cases.py", "verdicts.py"):
+                     "procedures.py", "running.py", "rules.py", "cases.py", "verdicts.py", "questions.py",
+                     "meetings.py", "regions.py", "needs.py"):
             self.assertIn(name, names)
 
     def test_signs_and_lengths(self):
@@ -145,7 +151,8 @@ class TestLanguage(unittest.TestCase):
         self.assertEqual(plain_methods() & stored_attributes() - setters(), set())
 
     def test_attributes_and_methods_are_known(self):
-        known = properties() | plain_methods() | stored_attributes() | METHODS | {"__class__", "__name__"}
+        known = properties() | plain_methods() | stored_attributes() | class_values() | METHODS
+        known |= {"__class__", "__name__"}
         for file, node in nodes(ast.Attribute):
             self.assertIn(node.attr, known, (file, node.lineno))
 
