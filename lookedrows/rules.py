@@ -19,12 +19,12 @@ def _checked_rules(rules, forms, layout, ahead):
     if not isinstance(rules, (list, tuple)):
         raise InvalidRule(ahead)
     for index, rule in enumerate(rules):
-        if index >= MOST_RULES or not _is_rule(rule, forms, layout):
+        if index >= MOST_RULES or not is_rule(rule, forms, layout):
             raise InvalidRule(ahead + index)
     return list(rules)
 
 
-def _is_rule(value, forms, layout):
+def is_rule(value, forms, layout):
     """Whether any value is a rule with values of these forms."""
     if not Scope(layout).has_condition(value, forms):
         return False

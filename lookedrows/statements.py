@@ -47,7 +47,7 @@ def checked_statements(statements, scope):
         many += 1
         too_many = path[0] >= MOST_OWN or many > MOST_IN_ALL
         # Each if on the way takes two indexes.
-        if too_many or len(path) > 2 * DEEPEST_STATEMENT - 1 or not _is_statement(statement, scope):
+        if too_many or len(path) > 2 * DEEPEST_STATEMENT - 1 or not is_statement(statement, scope):
             raise InvalidStatement(path)
         if statement[0] == "if":
             inner = [((*path, at, index), part) for at in (2, 3) for index, part in enumerate(statement[at])]
@@ -70,7 +70,7 @@ def _told(statement):
     return statement
 
 
-def _is_statement(value, scope):
+def is_statement(value, scope):
     """Whether any value is a statement by itself, whatever stands in the lists of an if."""
     if not isinstance(value, tuple) or not value or not isinstance(value[0], str) or value[0] not in SHAPES:
         return False

@@ -99,7 +99,7 @@ def read_value(text):
     words = text.split(" ")
     value = _read_single(words[0])
     if len(words) == 3:
-        value = ("plus", value, _read_signed(words[1], words[2]))
+        value = ("plus", value, _read_signed(words[1], words[2], MOST_DIGITS))
     if len(words) not in (1, 3) or not is_value(value):
         raise InvalidText()
     return value
@@ -114,15 +114,20 @@ def _read_single(word):
         return ("field", first, column)
     if is_name(word):
         return ("name", word)
+    return ("number", read_integer(word, MOST_DIGITS))
+
+
+def read_integer(word, most_digits):
+    """The integer with this text, which has at most so many digits, or None if no integer is written so."""
     if word.startswith("-"):
-        return ("number", _read_signed("-", word[1:]))
-    return ("number", _read_signed("+", word))
+        return _read_signed("-", word[1:], most_digits)
+    return _read_signed("+", word, most_digits)
 
 
-def _read_signed(sign, word):
+def _read_signed(sign, word, most_digits):
     """The integer with these digits behind this sign, or None if no integer is written so."""
     # The length goes first, for Python refuses to read integers of very many digits.
-    if not 1 <= len(word) <= MOST_DIGITS or any([not "0" <= digit <= "9" for digit in word]):
+    if not 1 <= len(word) <= most_digits or any([not "0" <= digit <= "9" for digit in word]):
         return None
     k = int(word)
     # Only one text stands for an integer: without leading zeros, and 0 without a minus.

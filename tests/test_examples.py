@@ -1,4 +1,4 @@
-"""The examples of the document, for what there is: each one ends in a line that tells the result or the error."""
+"""The examples of the document: each one ends in a line that tells the result or the error."""
 
 import re
 import unittest
@@ -76,6 +76,24 @@ raises FailsLate(index=1)
 >>> rows = [*rows, ('fail', 'no')]
 >>> [spare(Rules([]), Procedure([], ['a'], rows[:2])), spare(Rules([]), Procedure([], ['a'], rows))]
 [[1], [0, 1]]
+
+>>> from lookedrows.procedures import Procedure
+>>> from lookedrows.texts import procedure_text
+>>> procedure_text(Procedure(['end'], ['a'], [('if', ('found', 'r'), (), (('move', ('name', 'a'), -1),))]))
+'procedure end\narguments a\nif found r\nelse\nmove a -1\nend\n'
+
+>>> from lookedrows.texts import read_table
+>>> read_table('table end\n1 2\n1 3\n')
+raises InvalidLine(index=2)
+
+>>> from lookedrows.desk import Desk
+>>> from lookedrows.procedures import Procedure
+>>> from lookedrows.rules import Rules
+>>> desk = Desk()
+>>> put = Procedure([], ['a'], [('insert', 'r', (('name', 'a'),))])
+>>> desk.shelf().apply(('enter', 'book', Rules([])), ('enter', 'put', put))
+>>> [desk.say('names'), desk.say('ask never book put'), desk.say('drop me')]
+['book put', 'no 1', 'error UnknownName']
 """
 
 
@@ -95,7 +113,7 @@ class TestExamples(unittest.TestCase):
 
     def test_examples(self):
         examples = EXAMPLES.strip().split("\n\n")
-        self.assertEqual(len(examples), 12)
+        self.assertEqual(len(examples), 15)
         for example in examples:
             lines = re.findall("^>>> (.*)$", example, re.MULTILINE)
             self.assertEqual(outcome(lines), example.split("\n")[-1])

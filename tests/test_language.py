@@ -110,7 +110,7 @@ class TestLanguage(unittest.TestCase):
         names = [file.name for file in FILES]
         for name in ("__init__.py", "errors.py", "values.py", "conditions.py", "systems.py", "tables.py",
                      "procedures.py", "running.py", "rules.py", "cases.py", "verdicts.py", "questions.py",
-                     "meetings.py", "regions.py", "needs.py"):
+                     "meetings.py", "regions.py", "needs.py", "texts.py", "shelves.py", "pages.py", "desk.py"):
             self.assertIn(name, names)
 
     def test_signs_and_lengths(self):
@@ -152,7 +152,7 @@ class TestLanguage(unittest.TestCase):
 
     def test_attributes_and_methods_are_known(self):
         known = properties() | plain_methods() | stored_attributes() | class_values() | METHODS
-        known |= {"__class__", "__name__"}
+        known |= {"__class__", "__name__", "setter"}
         for file, node in nodes(ast.Attribute):
             self.assertIn(node.attr, known, (file, node.lineno))
 
