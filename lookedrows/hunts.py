@@ -41,7 +41,7 @@ class Guide(Judge):
     def __init__(self, node, bounds):
         self.bounds = bounds
         self.script = node.script
-        self.branches = []
+        self.ways = []
         self.forks = []
         self._forked = node.forked
         self._at = node.place[1]
@@ -66,7 +66,7 @@ class Guide(Judge):
             return False
         if self._sure:
             raise Unsure()
-        self.branches.append(Node(self._stage, self._place, self.bounds, [contrary], self.script, self._forked))
+        self.ways.append(Node(self._stage, self._place, self.bounds, [contrary], self.script, self._forked))
         self.bounds = with_comparison(self.bounds, comparison)
         return True
 
@@ -156,7 +156,7 @@ class Hunt:
             told = (guide.bounds, stage)
         except Astray:
             pass
-        self._waiting[many].extend(guide.branches)
+        self._waiting[many].extend(guide.ways)
         self._fork(node.stage, guide.forks)
         return told
 

@@ -100,7 +100,7 @@ class Woven(Question):
         self.check_table(table, numbers)
         order, cells = laid_out(plain_rows(table.rows()))
         setting = Setting(None, self.columns, dict(zip(self.arguments, plain_numbers(numbers))))
-        acts = [("open", 0), ("open", 1), *turns_of(one, other, weaving), ("end", 0), ("end", 1)]
+        acts = [("begin", 0), ("begin", 1), *turns_of(one, other, weaving), ("end", 0), ("end", 1)]
         stage = stage_behind(setting, Board(order, cells, Judge()), acts)
         behind = Table(self.columns[1:], [integers_of(row) for row in stage.board.told()])
         return _told_ending(stage.ends[0]), _told_ending(stage.ends[1]), behind
@@ -131,7 +131,7 @@ class Woven(Question):
         """
         one, other = self._bodies
         acts = (turns_of(one, (), "0" * len(one)), turns_of((), other, "1" * len(other)))
-        stages = [(0, stage_behind(setting, origin, [("open", 0), ("open", 1)]))]
+        stages = [(0, stage_behind(setting, origin, [("begin", 0), ("begin", 1)]))]
         for turn in range(len(one) + len(other)):
             longer = {}
             for done, stage in stages:

@@ -40,7 +40,7 @@ def _needed_in(statements):
 
 def whole_run(slot, statements):
     """The list of the acts of a whole run."""
-    return [("open", slot), *_do_all(slot, statements), ("close", slot)]
+    return [("begin", slot), *_do_all(slot, statements), ("close", slot)]
 
 
 def _further(*lists):
@@ -63,7 +63,7 @@ def alike_plans(one, other):
     many = _common(one, other)
     later = [*_needed_in(one[many:]), *_needed_in(other[many:])]
     return [[
-        ("start",), ("open", 0), *_do_all(0, one[:many], later), ("part", 0),
+        ("start",), ("begin", 0), *_do_all(0, one[:many], later), ("part", 0),
         *_do_all(0, one[many:]), ("close", 0), ("keep",),
         ("back", 0), *_do_all(0, other[many:]), ("close", 0), ("keep",),
         ("must", "unlike", _further(one, other), (0, 1), ((0, 1),)),
@@ -127,7 +127,7 @@ def again_plans(statements):
 def _again_plan(statements, many):
     """The plan of again, where so many statements are done alone."""
     return [
-        ("start",), ("open", 0), *_do_all(0, statements[:many], _needed_in(statements[many:])), ("part", 0),
+        ("start",), ("begin", 0), *_do_all(0, statements[:many], _needed_in(statements[many:])), ("part", 0),
         *_do_all(0, statements[many:]), ("close", 0), ("keep",),
         ("back", 0), ("close", 0), ("settle",), *whole_run(0, statements), ("keep",),
         ("must", "unlike", _further(statements), (0, 1), ((0, 2),)),
@@ -198,9 +198,9 @@ def _woven_plan(one, other, weaving):
     further = _further(one, other)
     acts = _do_all(0, one)
     return [
-        ("start",), ("open", 0), *acts[:ahead], ("part", 0),
+        ("start",), ("begin", 0), *acts[:ahead], ("part", 0),
         *acts[ahead:], ("close", 0), *whole_run(1, other), ("keep",),
-        ("back", 0), ("open", 1), *turns_of(one, other, weaving)[ahead:], ("end", 0), ("end", 1), ("keep",),
+        ("back", 0), ("begin", 1), *turns_of(one, other, weaving)[ahead:], ("end", 0), ("end", 1), ("keep",),
         ("must", "unlike", further, (0, 1), ((0, 2), (1, 3))),
         ("start",), *whole_run(1, other), *whole_run(0, one), ("keep",),
         ("must", "unlike", further, (2, 1), ((5, 2), (4, 3))),

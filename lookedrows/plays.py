@@ -175,16 +175,15 @@ ACTIONS = {
 class Play:
     """A run of a procedure on a board, statement by statement. It has no end as long as it goes on."""
 
-    def __init__(self, places, board, given):
+    def __init__(self, places, board, given, found):
         self.board = board
-        self.scene = Scene(places, board, given, {})
+        self.scene = Scene(places, board, given, found)
         self.end = None
         self._needed = None
 
     def copied(self, board):
         """A play that stands where this one stands, on another board."""
-        play = Play(self.scene.places, board, self.scene.given)
-        play.scene.found = dict(self.scene.found)
+        play = Play(self.scene.places, board, self.scene.given, dict(self.scene.found))
         play.end = self.end
         return play
 
@@ -224,7 +223,7 @@ def played(procedure, rows, numbers, judge):
     """The pair of the ending of a procedure on a table with these rows, and the list of the rows at the end."""
     order, cells = laid_out(rows)
     board = Board(order, cells, judge)
-    play = Play(places_of(procedure.columns), board, dict(zip(procedure.arguments, numbers)))
+    play = Play(places_of(procedure.columns), board, dict(zip(procedure.arguments, numbers)), {})
     for statement in procedure.statements():
         play.do(statement)
     ending = play.finish()

@@ -35,7 +35,8 @@ def walk(procedure, table, *numbers):
     _check(procedure, table, numbers)
     order, cells = laid_out(plain_rows(table.rows()))
     board = Board(order, cells, Judge())
-    play = Play(places_of(procedure.columns), board, dict(zip(procedure.arguments, plain_numbers(numbers))))
+    given = dict(zip(procedure.arguments, plain_numbers(numbers)))
+    play = Play(places_of(procedure.columns), board, given, {})
     yield table
     for statement in procedure.statements():
         if play.end is None:

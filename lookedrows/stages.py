@@ -64,9 +64,9 @@ def _start(stage, act):
     stage.board.restore(stage.origin)
 
 
-def _open(stage, act):
+def _begin(stage, act):
     """A run begins on the board as it stands."""
-    stage.plays[act[1]] = Play(stage.setting.places, stage.board, stage.setting.given)
+    stage.plays[act[1]] = Play(stage.setting.places, stage.board, stage.setting.given, {})
     stage.base = stage.board.copied(stage.board.judge)
 
 
@@ -123,7 +123,7 @@ def _must(stage, act):
 
 
 ACTIONS = {
-    "enter": _enter, "start": _start, "open": _open, "do": _do, "close": _close, "end": _end, "keep": _keep,
+    "enter": _enter, "start": _start, "begin": _begin, "do": _do, "close": _close, "end": _end, "keep": _keep,
     "part": _part, "back": _back, "settle": _settle, "must": _must,
 }
 

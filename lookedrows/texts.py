@@ -182,8 +182,7 @@ class Body:
     def _takes_statement(self, line):
         """As takes, for the line of a statement."""
         self._many += 1
-        is_one_too_many = len(self._lists) == 1 and len(self._lists[0]) == MOST_OWN
-        if is_one_too_many or self._many > MOST_IN_ALL or len(self._ifs) == DEEPEST_STATEMENT:
+        if len(self._lists[0]) == MOST_OWN or self._many > MOST_IN_ALL or len(self._ifs) == DEEPEST_STATEMENT:
             return False
         try:
             statement = read_line(line)
