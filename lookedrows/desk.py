@@ -17,8 +17,8 @@ def _kind(shelf, words):
 
 
 def _ask(shelf, words):
-    procedures = words[3:]
-    verdict = shelf.asked(words[1], words[2], *procedures)
+    word, rules, procedures = words[1], words[2], words[3:]
+    verdict = shelf.asked(word, rules, *procedures)
     return "yes" if verdict.holds else f"no {len(verdict.table)}"
 
 

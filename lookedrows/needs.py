@@ -31,7 +31,8 @@ def _contains_one(indexes, found):
 def _is_shown(question, rules, answers):
     """Whether a table of an earlier negative answer shows that the question fails for these rules, too."""
     for answer in answers:
-        if rules.keeps(answer.table) and question.fails(rules, answer.table, *answer.numbers):
+        table, numbers = answer.table, answer.numbers
+        if rules.keeps(table) and question.fails(rules, table, *numbers):
             return True
     return False
 

@@ -34,6 +34,7 @@ class Question:
         self._procedures = procedures
         self._names = _joined_arguments(procedures)
         self._bodies = [procedure.statements() for procedure in procedures]
+        self._sum = sum([procedure.looks for procedure in procedures])
 
     def procedures(self):
         """The list of the procedures."""
@@ -52,7 +53,7 @@ class Question:
     @property
     def looks(self):
         """The number of looks of all runs of the question."""
-        return self.RUNS * sum([procedure.looks for procedure in self._procedures])
+        return self.RUNS * self._sum
 
     @property
     def breadth(self):

@@ -232,6 +232,28 @@ class TestLanguage(unittest.TestCase):
                             ("True", False), ("many", False), ("self.many()", False), ("-1", False)):
             self.assertIs(is_plain_length(ast.parse(text).body[0].value), plain, text)
 
+    def test_calls_with_stars_pass_names(self):
+        for file, node in nodes(ast.Call):
+            for part in node.args:
+                if isinstance(part, ast.Starred):
+                    self.assertIsInstance(part.value, ast.Name, (file, node.lineno))
+
+    def test_no_two_files_import_from_each_other(self):
+        needs = {file.stem: set() for file in FILES}
+        for file, node in nodes(ast.ImportFrom):
+            if node.module not in LIBRARY:
+                needs[file.stem].add(node.module.split(".")[-1])
+        ready = set()
+        while len(ready) < len(needs):
+            further = {name for name, others in needs.items() if name not in ready and others <= ready}
+            self.assertTrue(further, {name: needs[name] for name in needs if name not in ready})
+            ready |= further
+
+    def test_attributes_are_assigned_through_a_local_name(self):
+        for file, node in nodes(ast.Attribute):
+            if not isinstance(node.ctx, ast.Load):
+                self.assertIsInstance(node.value, ast.Name, (file, node.lineno))
+
     def test_python_gives_no_warning(self):
         with warnings.catch_warnings():
             warnings.simplefilter("error")
